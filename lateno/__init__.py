@@ -1,0 +1,1 @@
+"""Lateno: what a late No costs."""

@@ -1,0 +1,91 @@
+"""The interface: each name in the file under which it is listed, with the parameters of the points; and the README."""
+
+import ast
+import importlib
+import inspect
+import os
+import unittest
+
+FOLDER = os.path.join(os.path.dirname(os.path.dirname(os.path.abspath(__file__))), "lateno")
+
+FUNCTIONS = {
+    "desks": {
+        "kind_number": "desk name", "tool_number": "desk name", "is_total": "desk", "need_offers": "desk value",
+        "with_repairs": "desk offers",
+    },
+    "pairs": {"least_price": "desk kind x y", "repair_row": "desk kind x y", "repair_price": "desk kind x y value"},
+    "plans": {
+        "no_plan": "tool", "row_plan": "tools", "both_plan": "one other", "columns_of": "desk plan history",
+        "stands_of": "desk plan history", "heap_of": "desk plan history",
+    },
+    "reach": {"what_comes": "desk", "sorts": "desk", "closed_holds": "desk value", "ready": "desk wants"},
+    "worlds": {
+        "need_history": "desk value", "tried": "desk world one", "worlds_along": "desk history", "world_behind": "desk history",
+        "outcomes": "desk history", "all_done": "desk history", "thing_rows": "desk history",
+        "alike_histories": "desk one other", "normal_history": "desk history", "alike_count": "desk history",
+        "interleaved": "desk things rows turns",
+    },
+    "houses": {"seam_of": "house", "join_houses": "house other", "comes_with": "house lots", "closed_lots": "house"},
+    "nets": {
+        "net_moves": "desk plan done", "net_steps": "desk plan standing", "net_led": "desk plan moves",
+        "run_of": "desk plan history", "history_of": "desk plan moves",
+    },
+    "steps": {"steps": "desk sort", "played": "desk sort step", "beginnings": "desk tool"},
+    "texts": {"desk_text": "desk", "read_desk": "text", "history_text": "desk history", "read_history": "desk text"},
+    "twins": {
+        "need_struck": "history value", "less": "desk history struck", "twin_behind": "desk history struck",
+        "both": "desk history struck", "unlike_things": "world twin", "apart": "desk history struck",
+        "otherwise": "desk history struck", "trail": "desk history number", "lot_worlds": "desk history waiting",
+    },
+    "guards": {
+        "all_guards": "desk offers", "with_bought": "desk offers lot", "guard_table": "desk offers lot",
+        "value_of": "desk offers tool lot", "is_kept": "value promise", "serves": "desk offers tool lot promise",
+    },
+}
+CLASSES = {
+    "desks": {"Desk": ("kinds tools repairs", {"behind": "tool befores"})},
+    "houses": {"House": ("desk many", {})},
+}
+
+
+def parameters(call):
+    return " ".join(inspect.signature(call).parameters)
+
+
+def defined_in(module):
+    with open(os.path.join(FOLDER, module + ".py"), encoding="utf-8") as file:
+        return {one.name: one for one in ast.parse(file.read()).body if isinstance(one, (ast.FunctionDef, ast.ClassDef))}
+
+
+class Interface(unittest.TestCase):
+    def test_functions(self):
+        for module, told in FUNCTIONS.items():
+            loaded = importlib.import_module("lateno." + module)
+            for name, names in told.items():
+                self.assertIn(name, defined_in(module))
+                self.assertEqual(parameters(getattr(loaded, name)), names, name)
+
+    def test_classes_and_their_methods(self):
+        for module, told in CLASSES.items():
+            loaded = importlib.import_module("lateno." + module)
+            for name, (names, methods) in told.items():
+                self.assertEqual(parameters(getattr(loaded, name)), names)
+                own = [one.name for one in defined_in(module)[name].body if isinstance(one, ast.FunctionDef)]
+                for method, rest in methods.items():
+                    self.assertIn(method, own)
+                    self.assertEqual(parameters(getattr(getattr(loaded, name), method)), "self " + rest)
+
+
+class Readme(unittest.TestCase):
+    def test_it_tells_how_to_use_and_to_test(self):
+        with open(os.path.join(os.path.dirname(FOLDER), "README.md"), encoding="utf-8") as file:
+            text = file.read()
+        self.assertIn("bash .ci/run", text)
+        code = [part.split("```")[0] for part in text.split("```python\n")[1:]]
+        self.assertTrue(code)
+        for part in code:
+            exec(compile(part, "README.md", "exec"), {})
+
+
+if __name__ == "__main__":
+    unittest.main()
