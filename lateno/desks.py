@@ -1,7 +1,7 @@
 """Desks: kinds of things, tools that turn them, and the desk's own repairs."""
 
 from lateno.errors import InvalidDesk, InvalidOffers, InvalidSize
-from lateno.values import are_below, is_below, is_row, is_row_of, is_whole
+from lateno.checks import are_below, is_below, is_row, is_row_of, is_whole
 
 MOST_KINDS = 6
 MOST_STATES = 6
@@ -178,10 +178,10 @@ def _told_repairs(kinds, repairs):
     return told
 
 
-def _right_repairs(kinds, values):
+def _right_repairs(kinds, repairs):
     """The repairs in tuples, up to the first wrong one."""
     told = []
-    for value in values:
+    for value in repairs:
         repair = next_repair(kinds, told, value)
         if repair is None:
             break

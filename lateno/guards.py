@@ -5,7 +5,7 @@ from lateno.errors import InvalidLot, InvalidPromise
 from lateno.pairs import least_price
 from lateno.reach import sorts_among, what_comes
 from lateno.steps import apart_of, beginnings_with, step_played, steps_of_kind
-from lateno.values import is_below, is_row, is_row_of, is_whole
+from lateno.checks import is_below, is_row, is_row_of, is_whole
 
 BAD = ("bad",)
 GROWS = ("grows",)
@@ -141,17 +141,17 @@ def _values_of_sorts(prices, lines):
     """For each sort its value: of its price, None if it is bad, and of the lines of what its steps give."""
     ways = {sort: _sorts_behind(lines, sort) for sort in lines}
     rings = {sort: _is_on_ring(ways, sort, lines[sort]) for sort in lines}
-    values = {}
+    told = {}
     for sort in lines:
         if any([prices[other] is None for other in ways[sort]]):
-            values[sort] = BAD
+            told[sort] = BAD
         elif any([rings[other] for other in ways[sort]]):
-            values[sort] = GROWS
-    finite = [sort for sort in lines if sort not in values]
+            told[sort] = GROWS
+    finite = [sort for sort in lines if sort not in told]
     most = _least_numbers(finite, prices, lines)
     for sort in finite:
-        values[sort] = ("most", most[sort])
-    return values
+        told[sort] = ("most", most[sort])
+    return told
 
 
 def _least_numbers(finite, prices, lines):

@@ -3,7 +3,7 @@
 from lateno.desks import Desk
 from lateno.errors import InvalidHouse, InvalidLots, InvalidSeam
 from lateno.reach import comes_from
-from lateno.values import all_choices, is_below, is_rising, is_row
+from lateno.checks import all_choices, is_below, is_rising, is_row
 
 
 class House:

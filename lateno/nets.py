@@ -3,7 +3,7 @@
 from lateno.errors import InvalidMoves, InvalidSize
 from lateno.plans import heap_told, is_apart, need_plan, need_plan_history, rows_along, turned
 from lateno.reach import history_with, what_comes
-from lateno.values import all_choices, is_below, is_row, is_whole
+from lateno.checks import all_choices, is_below, is_row, is_whole
 
 MOST_ROWS = 3000
 FIRST = ((), ())

@@ -1,7 +1,7 @@
 """Pairs of states: what it costs to put one thing right."""
 
 from lateno.errors import InvalidSize
-from lateno.values import is_below
+from lateno.checks import is_below
 
 
 def least_price(desk, kind, x, y):

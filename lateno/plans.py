@@ -2,7 +2,7 @@
 
 from lateno.errors import InvalidHistory, InvalidPlan
 from lateno.reach import is_possible, what_comes
-from lateno.values import is_below, is_row, is_row_of
+from lateno.checks import is_below, is_row, is_row_of
 from lateno.worlds import first_world, right_try, tried
 
 MOST_STRIKES = 3

@@ -1,7 +1,7 @@
 """What comes: the states that things can have, and histories that bring them."""
 
 from lateno.errors import InvalidSize, InvalidWants, Refused
-from lateno.values import is_below, is_rising, is_row, is_row_of
+from lateno.checks import is_below, is_rising, is_row, is_row_of
 
 MOST_THINGS = 4000
 

@@ -3,7 +3,7 @@
 from lateno.desks import need_tool
 from lateno.errors import InvalidSort, InvalidStep
 from lateno.reach import row_comes, what_comes
-from lateno.values import all_choices, is_below, is_row_of
+from lateno.checks import all_choices, is_below, is_row_of
 
 
 def steps(desk, sort):

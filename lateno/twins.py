@@ -1,7 +1,7 @@
 """Twins: what would be without struck tries, and what is apart from it."""
 
 from lateno.errors import InvalidIndex, InvalidStruck
-from lateno.values import is_below, is_row, rising_until
+from lateno.checks import is_below, is_row, rising_until
 from lateno.worlds import first_world, need_history, tried, world_behind
 
 

@@ -1,7 +1,7 @@
 """Histories of tries, the worlds they lead to, and histories that are alike."""
 
 from lateno.errors import InvalidHistory, InvalidSize
-from lateno.values import is_below, is_row, is_row_of
+from lateno.checks import is_below, is_row, is_row_of
 
 MOST_COUNTED = 12
 

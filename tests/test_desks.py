@@ -147,6 +147,19 @@ class RightDesks(Case):
         self.same(is_total(Desk(KINDS, [full, ("sign", (0,), full[2][:0])], [])), False)
         self.same(is_total(Desk(KINDS, [("sign", (0,), []), full], [])), False)
         self.same(is_total(MAIL), False)
+        self.same(is_total(desk=Desk((("a", 3),), [("t", (0,), [((x,), (0,)) for x in range(3)])], ())), True)
+
+    def test_is_total_of_all_but_one_row(self):
+        rng = self.rng(8)
+        for _ in range(100):
+            desk = random_desk(rng, states=4, roles=3, fill=1.0)
+            self.same(is_total(desk), True)
+            tools = list(desk.tools)
+            at = rng.randrange(len(tools))
+            name, roles, rows = tools[at]
+            gone = rng.randrange(len(rows))
+            tools[at] = (name, roles, rows[:gone] + rows[gone + 1:])
+            self.same(is_total(Desk(desk.kinds, tools, ())), False)
 
     def test_objects_are_not_iterated_and_have_no_length(self):
         for thing in (MAIL, House(MAIL, 1)):

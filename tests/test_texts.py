@@ -177,6 +177,9 @@ class DeskTexts(Case):
     def test_where_kinds_stand(self):
         for at in range(3, 13):
             self.wrong(at, LINES[:at] + ["kind x 2"] + LINES[at:])
+        self.wrong(2, ["kind a 2", "repair a 1 0 1", "kind b 2"])
+        self.wrong(2, ["kind a 2", "repair a 1 0 1", "tool t a"])
+        self.wrong(2, ["kind a 2", "tool t a", "kind b 2"])
         six = [f"kind {name} 6" for name in "abcdef"]
         self.same(len(read_desk("\n".join(six)).kinds), 6)
         self.wrong(6, six + ["kind g 6"])

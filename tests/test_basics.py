@@ -1,0 +1,150 @@
+"""[1], [2], [3]: what holds for all of the package."""
+
+import time
+import unittest
+
+from lateno.desks import Desk, is_total, kind_number, need_offers, tool_number, with_repairs
+from lateno.guards import all_guards, guard_table, is_kept, serves, value_of, with_bought
+from lateno.houses import House, closed_lots, comes_with, join_houses, seam_of
+from lateno.nets import history_of, net_led, net_moves, net_steps, run_of
+from lateno.pairs import least_price, repair_price, repair_row
+from lateno.plans import both_plan, columns_of, heap_of, no_plan, row_plan, stands_of
+from lateno.reach import closed_holds, ready, sorts, what_comes
+from lateno.steps import beginnings, played, steps
+from lateno.texts import desk_text, history_text, read_desk, read_history
+from lateno.twins import apart, both, less, lot_worlds, need_struck, otherwise, trail, twin_behind, unlike_things
+from lateno.worlds import all_done, alike_count, alike_histories, interleaved, need_history, normal_history, outcomes
+from lateno.worlds import thing_rows, tried, world_behind, worlds_along
+from samples import LOCK, MAIL, Case, as_lists, is_tuples
+
+HISTORY = ((0, 0), ((0, (0,)), (1, (0,)), (0, (0,)), (0, (1,))))
+LOCKED = ((0,), ((0, (0,)), (1, (0,)), (2, (0,))), (1, 0))
+RUN = ((0, ((0, 0, 0, 0, 0),), 1), (1, ((1, 1, 0, 0, 0),), 0), (2, ((0, 1, 0, 0, 0),), -1))
+OFFERS = ((0, 2, 1, 2),)
+OTHER = House(Desk(MAIL.kinds + (("box", 2),), (("put", (0, 1), (((2, 0), (0, 1)),)),), MAIL.repairs), 1)
+PLAN = both_plan(1, 0)
+
+# (function, its arguments in their order, which of them may hold no lists)
+CALLS = (
+    (kind_number, {"desk": MAIL, "name": "mail"}), (tool_number, {"desk": MAIL, "name": "send"}), (is_total, {"desk": MAIL}),
+    (need_offers, {"desk": MAIL, "value": OFFERS}), (with_repairs, {"desk": MAIL, "offers": OFFERS}),
+    (Desk, {"kinds": MAIL.kinds, "tools": MAIL.tools, "repairs": MAIL.repairs}), (House, {"desk": MAIL, "many": 1}),
+    (least_price, {"desk": MAIL, "kind": 0, "x": 2, "y": 0}), (repair_row, {"desk": MAIL, "kind": 0, "x": 2, "y": 0}),
+    (repair_price, {"desk": MAIL, "kind": 0, "x": 2, "y": 0, "value": (1,)}, "value"),
+    (no_plan, {"tool": 1}), (row_plan, {"tools": (1, 0)}), (both_plan, {"one": 1, "other": 0}),
+    (columns_of, {"desk": LOCK, "plan": PLAN, "history": LOCKED}), (stands_of, {"desk": LOCK, "plan": PLAN, "history": LOCKED}),
+    (heap_of, {"desk": LOCK, "plan": PLAN, "history": LOCKED}),
+    (what_comes, {"desk": MAIL}), (sorts, {"desk": MAIL}), (closed_holds, {"desk": MAIL, "value": ((0, 1, 2),)}, "value"),
+    (ready, {"desk": MAIL, "wants": ((0, 2), (0, 1))}),
+    (need_history, {"desk": MAIL, "value": HISTORY}), (tried, {"desk": MAIL, "world": (0, 1), "one": (1, (1,))}),
+    (worlds_along, {"desk": MAIL, "history": HISTORY}), (world_behind, {"desk": MAIL, "history": HISTORY}),
+    (outcomes, {"desk": MAIL, "history": HISTORY}), (all_done, {"desk": MAIL, "history": HISTORY}),
+    (thing_rows, {"desk": MAIL, "history": HISTORY}), (normal_history, {"desk": MAIL, "history": HISTORY}),
+    (alike_histories, {"desk": MAIL, "one": HISTORY, "other": HISTORY}), (alike_count, {"desk": MAIL, "history": HISTORY}),
+    (interleaved, {"desk": MAIL, "things": (0, 0), "rows": (((0, (0,)),), ((0, (1,)),)), "turns": (1, 0)}),
+    (seam_of, {"house": OTHER}), (join_houses, {"house": House(MAIL, 1), "other": OTHER}),
+    (comes_with, {"house": OTHER, "lots": ((0, 2),)}), (closed_lots, {"house": OTHER}),
+    (net_moves, {"desk": LOCK, "plan": PLAN, "done": (1,)}), (net_led, {"desk": LOCK, "plan": PLAN, "moves": RUN}, "moves"),
+    (net_steps, {"desk": LOCK, "plan": PLAN, "standing": ((1,), ((0, (1, 1, 0, 0, 0)),))}),
+    (run_of, {"desk": LOCK, "plan": PLAN, "history": LOCKED}), (history_of, {"desk": LOCK, "plan": PLAN, "moves": RUN}, "moves"),
+    (steps, {"desk": MAIL, "sort": (0, 1, 0)}), (played, {"desk": MAIL, "sort": (0, 1, 0), "step": (1, 0, ())}),
+    (beginnings, {"desk": MAIL, "tool": 0}),
+    (desk_text, {"desk": MAIL}), (read_desk, {"text": desk_text(MAIL)}), (history_text, {"desk": MAIL, "history": HISTORY}),
+    (read_history, {"desk": MAIL, "text": history_text(MAIL, HISTORY)}),
+    (need_struck, {"history": HISTORY, "value": (0, 2)}), (less, {"desk": MAIL, "history": HISTORY, "struck": (0, 2)}),
+    (twin_behind, {"desk": MAIL, "history": HISTORY, "struck": (0,)}), (both, {"desk": MAIL, "history": HISTORY, "struck": (0,)}),
+    (unlike_things, {"world": (0, 1), "twin": (1, 1)}), (apart, {"desk": MAIL, "history": HISTORY, "struck": (0,)}),
+    (otherwise, {"desk": MAIL, "history": HISTORY, "struck": (0,)}), (trail, {"desk": MAIL, "history": HISTORY, "number": 0}),
+    (lot_worlds, {"desk": MAIL, "history": HISTORY, "waiting": (0, 3)}),
+    (all_guards, {"desk": MAIL, "offers": OFFERS}), (with_bought, {"desk": MAIL, "offers": OFFERS, "lot": (("buy", 0),)}),
+    (guard_table, {"desk": MAIL, "offers": OFFERS, "lot": (("buy", 0), ("wait", 1))}),
+    (value_of, {"desk": MAIL, "offers": OFFERS, "tool": 0, "lot": (("wait", 1),)}),
+    (is_kept, {"value": ("most", 3), "promise": ("most", 3)}, "value"),
+    (serves, {"desk": MAIL, "offers": OFFERS, "tool": 0, "lot": (("wait", 1),), "promise": ("right",)}),
+)
+
+
+def told(result):
+    """A result as it can be compared: objects by what they tell."""
+    return result.told if isinstance(result, (Desk, House)) else result
+
+
+def in_lists(named, whole):
+    """The arguments with lists for tuples; one that may hold no lists stays, or is a list of tuples itself."""
+    found = {}
+    for name, value in named.items():
+        if name != whole:
+            found[name] = as_lists(value)
+        else:
+            found[name] = list(value) if name == "moves" else value
+    return found
+
+
+class AllCalls(Case):
+    def results(self, turn):
+        found = {}
+        for call, named, *whole in turn:
+            found[call] = told(call(**named))
+        return found
+
+    def test_by_position_by_names_and_with_lists(self):
+        for call, named, *whole in CALLS:
+            want = told(call(*named.values()))
+            self.same(told(call(**named)), want)
+            self.same(told(call(**dict(reversed(list(named.items()))))), want)
+            lists = in_lists(named, whole[0] if whole else None)
+            self.same(told(call(**lists)), want)
+            self.same(told(call(*lists.values())), want)
+
+    def test_results_are_tuples_throughout(self):
+        for call, named, *_ in CALLS:
+            self.assertTrue(is_tuples(told(call(**named))), call.__name__)
+
+    def test_arguments_do_not_change_and_are_not_kept(self):
+        for call, named, *whole in CALLS:
+            lists = in_lists(named, whole[0] if whole else None)
+            before = repr({name: told(value) for name, value in lists.items()})
+            found = call(**lists)
+            self.assertEqual(repr({name: told(value) for name, value in lists.items()}), before, call.__name__)
+            want = repr(told(found))
+            for value in lists.values():
+                if isinstance(value, list):
+                    value.clear()
+            self.assertEqual(repr(told(found)), want, call.__name__)
+
+    def test_equal_calls_give_equal_results_whatever_comes_between(self):
+        first = self.results(CALLS)
+        self.same(list(self.results(CALLS[::-1]).values()), list(first.values())[::-1])
+        self.same(list(self.results(CALLS).values()), list(first.values()))
+        for desk in (MAIL, LOCK):
+            fresh = Desk(*desk.told)
+            self.same(what_comes(fresh), what_comes(desk))
+            self.same(guard_table(fresh, (), ()), guard_table(desk, (), ()))
+
+    def test_whether_is_a_bool(self):
+        for call in (is_total, closed_holds, all_done, alike_histories, is_kept, serves):
+            named = next(row[1] for row in CALLS if row[0] == call)
+            self.assertIs(type(call(**named)), bool)
+        for row in outcomes(MAIL, HISTORY) + tried(MAIL, (0,), (0, (0,)))[1:] + played(MAIL, (0, 1, 0), (1, 0, ()))[:2]:
+            self.assertIs(type(row), bool)
+
+
+class Limits(Case):
+    def test_the_largest_desk(self):
+        kinds = [(letter, 6) for letter in "abcdef"]
+        states = [(x, y, z) for x in range(6) for y in range(6) for z in range(6)]
+        rows = [(before, (before[1], before[2], min(before[0] + 1, 5))) for before in states]
+        tools = [("t" + letter, (at % 6, (at + 1) % 6, (at + 5) % 6), rows) for at, letter in enumerate("abcdefghijklmnopqrst")]
+        repairs = [(kind, x, y, 10 ** 6) for kind in range(6) for x in range(6) for y in range(6) if x != y]
+        started = time.monotonic()
+        desk = Desk(kinds, tools, repairs)
+        self.same(what_comes(desk), (tuple(range(6)),) * 6)
+        self.same(is_total(desk), True)
+        self.same(read_desk(desk_text(desk)).told, desk.told)
+        self.same(len(ready(desk, [(kind, state) for kind in range(6) for state in range(6)])[0]) >= 36, True)
+        self.same(with_repairs(desk, [(0, 0, 1, 1)]).repairs[0], (0, 0, 1, 1))
+        self.assertLess(time.monotonic() - started, 20)
+
+
+if __name__ == "__main__":
+    unittest.main()
