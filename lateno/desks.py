@@ -19,7 +19,7 @@ class Desk:
         self.tools = _told_tools(self.kinds, tools)
         self.repairs = _told_repairs(self.kinds, repairs)
         self.told = (self.kinds, self.tools, self.repairs)
-        self._behinds = [{before: behind for before, behind in tool[2]} for tool in self.tools]
+        self._behinds = tuple([{before: behind for before, behind in tool[2]} for tool in self.tools])
 
     def behind(self, tool, befores):
         """What stands behind the tool's row with these befores, None if it has no such row."""
