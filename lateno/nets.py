@@ -173,7 +173,7 @@ def _alike_wants(desk, moves):
 
 
 def _deeds_of_moves(desk, plan, moves):
-    """(the deeds of the moves, the number of each strike's deed); things not yet apart are numbered as they are taken."""
+    """(the deeds of the moves, the number of each strike's deed); fresh things are numbered as they are taken."""
     deeds = []
     struck = {}
     fresh = 0
