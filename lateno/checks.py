@@ -6,6 +6,11 @@ def is_whole(value):
     return isinstance(value, int) and not isinstance(value, bool)
 
 
+def is_number(value):
+    """Whether a value is an integer from 0 on."""
+    return is_whole(value) and value >= 0
+
+
 def is_below(value, many):
     """Whether a value is a number below many."""
     return is_whole(value) and 0 <= value < many
@@ -41,6 +46,15 @@ def rising_until(row, many):
 def is_rising(value, many):
     """Whether a value is a sequence of ascending, unlike numbers below many."""
     return is_row(value) and rising_until(value, many) == len(value)
+
+
+def is_just(value, told):
+    """Whether any value is just this one of integers, strings and None, in tuples; no bool is a number."""
+    if isinstance(told, tuple):
+        if not isinstance(value, tuple) or len(value) != len(told):
+            return False
+        return all([is_just(one, other) for one, other in zip(value, told)])
+    return not isinstance(value, bool) and value == told
 
 
 def all_choices(rows):

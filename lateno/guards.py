@@ -2,7 +2,8 @@
 
 from lateno.desks import need_offers, need_tool, with_repairs
 from lateno.errors import InvalidLot, InvalidPromise
-from lateno.pairs import least_price
+from lateno.lines import least_table, sorts_behind
+from lateno.pairs import price_table
 from lateno.reach import sorts_among, what_comes
 from lateno.steps import apart_of, beginnings_with, step_played, steps_of_kind
 from lateno.checks import is_below, is_row, is_row_of, is_whole
@@ -114,75 +115,41 @@ def _value_of(desk, offers, tool, lot):
     return ("most", max([sum([value[1] for value in row]) for row in rows], default=0))
 
 
-def _values_under(desk, offers, lot):
-    """For each sort its value under the lot."""
-    bought = _with_bought(desk, offers, lot)
-    # what waits only waits behind the try: ahead of it all tools may have brought things
-    comes = what_comes(desk)
-    all_sorts = sorts_among(comes)
-    prices = {(kind, x, y): least_price(bought, kind, x, y) for kind, x, y in all_sorts}
-    return _values_of_sorts(prices, _lines_under(desk, comes, all_sorts, lot))
+def values_of_sorts(bases, lines):
+    """For each sort its value, by the values that sorts begin with and the lines of what they give."""
+    told = least_table({sort: bases[sort][1] if len(bases[sort]) == 2 else None for sort in bases}, lines)
+    found = {}
+    for sort in lines:
+        if any([bases[other] == BAD for other in sorts_behind(lines, sort)]):
+            found[sort] = BAD
+        else:
+            found[sort] = GROWS if told[sort] is None else ("most", told[sort])
+    return found
 
 
-def _lines_under(desk, comes, all_sorts, lot):
-    """For each sort what its steps by tools that don't wait give, each once."""
-    waits = [number for word, number in lot if word == "wait"]
+def value_of_price(price):
+    """The value that tells a least price; None is one of a bad pair."""
+    return BAD if price is None else ("most", price)
+
+
+def given_lines(desk, comes, all_sorts, waits):
+    """For each of these sorts what its steps by tools that don't wait give, each once, as lines without gain."""
     lines = {}
     for sort in all_sorts:
         given = {}
         for step in steps_of_kind(desk, comes, sort[0]):
             if step[0] not in waits:
                 given[apart_of(step_played(desk, sort, step)[2])] = True
-        lines[sort] = sorted(given)
+        lines[sort] = [(0, one) for one in sorted(given)]
     return lines
 
 
-def _values_of_sorts(prices, lines):
-    """For each sort its value: of its price, None if it is bad, and of the lines of what its steps give."""
-    ways = {sort: _sorts_behind(lines, sort) for sort in lines}
-    rings = {sort: _is_on_ring(ways, sort, lines[sort]) for sort in lines}
-    told = {}
-    for sort in lines:
-        if any([prices[other] is None for other in ways[sort]]):
-            told[sort] = BAD
-        elif any([rings[other] for other in ways[sort]]):
-            told[sort] = GROWS
-    finite = [sort for sort in lines if sort not in told]
-    most = _least_numbers(finite, prices, lines)
-    for sort in finite:
-        told[sort] = ("most", most[sort])
-    return told
-
-
-def _least_numbers(finite, prices, lines):
-    """For each of these sorts the least number, at least its price and the sum of each of its lines."""
-    most = {sort: prices[sort] for sort in finite}
-    grown = True
-    # behind no ring that gives something beside, a sort met again brings no more: so this ends
-    while grown:
-        grown = False
-        for sort in finite:
-            best = max([sum([most[other] for other in given]) for given in lines[sort]], default=0)
-            if best > most[sort]:
-                most[sort] = best
-                grown = True
-    return most
-
-
-def _sorts_behind(lines, sort):
-    """All sorts that the sort comes to, itself among them."""
-    found = {sort: True}
-    left = [sort]
-    while left:
-        one = left.pop()
-        for given in lines[one]:
-            for other in given:
-                if other not in found:
-                    found[other] = True
-                    left.append(other)
-    return found
-
-
-def _is_on_ring(ways, sort, given_lots):
-    """Whether a step that gives something beside leads from the sort on and back to it."""
-    return any([sort in ways[other] for given in given_lots if len(given) > 1 for other in given])
+def _values_under(desk, offers, lot):
+    """For each sort its value under the lot."""
+    prices = price_table(_with_bought(desk, offers, lot))
+    # what waits only waits behind the try: ahead of it all tools may have brought things
+    comes = what_comes(desk)
+    all_sorts = sorts_among(comes)
+    waits = [number for word, number in lot if word == "wait"]
+    bases = {sort: value_of_price(prices[sort]) for sort in all_sorts}
+    return values_of_sorts(bases, given_lines(desk, comes, all_sorts, waits))

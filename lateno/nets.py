@@ -3,7 +3,7 @@
 from lateno.errors import InvalidMoves, InvalidSize
 from lateno.plans import heap_told, is_apart, need_plan, need_plan_history, rows_along, turned
 from lateno.reach import history_with, what_comes
-from lateno.checks import all_choices, is_below, is_row, is_whole
+from lateno.checks import all_choices, is_below, is_rising, is_row, is_whole
 
 MOST_ROWS = 3000
 FIRST = ((), ())
@@ -88,6 +88,35 @@ def steps_behind(desk, plan, comes, standing):
         if behind is not None:
             found.append((move, behind))
     return tuple(found)
+
+
+def is_standing(desk, plan, comes, value):
+    """Whether any value is a standing of fitting rows, in tuples."""
+    if not isinstance(value, tuple) or len(value) != 2:
+        return False
+    done, heap = value
+    if not isinstance(done, tuple) or not is_rising(done, len(plan[0])) or not isinstance(heap, tuple):
+        return False
+    if not all([_is_sort(desk, plan, comes, done, sort) for sort in heap]):
+        return False
+    return all([one <= other for one, other in zip(heap, heap[1:])])
+
+
+def fits(plan, done, row):
+    """Whether each column of a row whose strike has not come has its parent's state."""
+    return all([strike in done or row[at] == row[parent] for at, (parent, strike) in enumerate(plan[1], start=1)])
+
+
+def _is_sort(desk, plan, comes, done, value):
+    """Whether any value is a sort of a fitting row."""
+    if not isinstance(value, tuple) or len(value) != 2 or not is_below(value[0], len(desk.kinds)):
+        return False
+    kind, row = value
+    if not isinstance(row, tuple) or len(row) != len(plan[1]) + 1:
+        return False
+    if not all([is_whole(state) and state in comes[kind] for state in row]):
+        return False
+    return is_apart(row) and fits(plan, done, row)
 
 
 def _told_standing(standing):

@@ -1,5 +1,6 @@
 """Pairs of states: what it costs to put one thing right."""
 
+from lateno.endless import total_of
 from lateno.errors import InvalidSize
 from lateno.checks import is_below
 
@@ -31,6 +32,21 @@ def repair_price(desk, kind, x, y, value):
         state = desk.repairs[number][2]
         total += desk.repairs[number][3]
     return total if state == y else None
+
+
+def price_table(desk):
+    """For each (kind, x, y) the least price, None if the pair is bad."""
+    prices = {}
+    for kind, (_, many) in enumerate(desk.kinds):
+        for x in range(many):
+            for y, found in enumerate(_cheapest(desk, kind, x)):
+                prices[(kind, x, y)] = None if found is None else found[0]
+    return prices
+
+
+def world_price(prices, things, here, there):
+    """The sum of least prices that lead all things from one world to the other, by a price table."""
+    return total_of([prices[way] for way in zip(things, here, there)])
 
 
 def _need_pair(desk, kind, x, y):

@@ -3,16 +3,23 @@
 import time
 import unittest
 
+from lateno.asking import ask_tree, asks_needed, broken_lots, firm_holds, firm_table, least_yeses, sure_asks, tree_asks
 from lateno.desks import Desk, is_total, kind_number, need_offers, tool_number, with_repairs
 from lateno.guards import all_guards, guard_table, is_kept, serves, value_of, with_bought
+from lateno.holding import bad_edges, bill, cheapest_order, dearest_order, edge_price, fresh_ledger, ledger_of, lets, no_ledger
+from lateno.holding import tried_ledger, yes_ledger
 from lateno.houses import House, closed_lots, comes_with, join_houses, seam_of
 from lateno.nets import history_of, net_led, net_moves, net_steps, run_of
+from lateno.notes import leaning, noted
 from lateno.pairs import least_price, repair_price, repair_row
 from lateno.plans import both_plan, columns_of, heap_of, no_plan, row_plan, stands_of
 from lateno.reach import closed_holds, ready, sorts, what_comes
+from lateno.silence import is_silent, loud_holds, loud_run, need_rules, rule_serves
 from lateno.steps import beginnings, played, steps
+from lateno.tables import base, table, table_holds, worst_of
 from lateno.texts import desk_text, history_text, read_desk, read_history
 from lateno.twins import apart, both, less, lot_worlds, need_struck, otherwise, trail, twin_behind, unlike_things
+from lateno.walls import is_calm, late_story, late_story_holds, wall, wall_holds
 from lateno.worlds import all_done, alike_count, alike_histories, interleaved, need_history, normal_history, outcomes
 from lateno.worlds import thing_rows, tried, world_behind, worlds_along
 from samples import LOCK, MAIL, Case, as_lists, is_tuples
@@ -23,6 +30,11 @@ RUN = ((0, ((0, 0, 0, 0, 0),), 1), (1, ((1, 1, 0, 0, 0),), 0), (2, ((0, 1, 0, 0,
 OFFERS = ((0, 2, 1, 2),)
 OTHER = House(Desk(MAIL.kinds + (("box", 2),), (("put", (0, 1), (((2, 0), (0, 1)),)),), MAIL.repairs), 1)
 PLAN = both_plan(1, 0)
+PRICE = ("price",)
+LEDGER = ledger_of(MAIL, HISTORY, (0, 1))
+HELD = {"desk": MAIL, "ledger": LEDGER, "one": (0, (0,)), "waits": True, "bound": 9}
+NOTED = noted(MAIL, 0, "note", "look")
+RULES = ((0, ()), (1, (0,)))
 
 # (function, its arguments in their order, which of them may hold no lists)
 CALLS = (
@@ -61,6 +73,26 @@ CALLS = (
     (value_of, {"desk": MAIL, "offers": OFFERS, "tool": 0, "lot": (("wait", 1),)}),
     (is_kept, {"value": ("most", 3), "promise": ("most", 3)}, "value"),
     (serves, {"desk": MAIL, "offers": OFFERS, "tool": 0, "lot": (("wait", 1),), "promise": ("right",)}),
+    (base, {"desk": MAIL, "number": PRICE, "sort": (0, 1, 0)}), (table, {"desk": MAIL, "number": ("otherwise", (0, 1))}),
+    (table_holds, {"desk": MAIL, "number": PRICE, "value": table(MAIL, PRICE)}, "value"),
+    (worst_of, {"desk": MAIL, "tool": 0, "number": ("otherwise", (0, 1))}),
+    (noted, {"desk": MAIL, "kind": 0, "note": "note", "look": "look"}),
+    (leaning, {"desk": NOTED, "tool": 0, "note": 1, "lets": (1, 2), "eats": True}),
+    (wall, {"desk": LOCK, "plan": PLAN, "goal": (3, 4)}), (is_calm, {"desk": LOCK, "plan": PLAN, "goal": (3, 4)}),
+    (wall_holds, {"desk": MAIL, "plan": no_plan(0), "goal": None, "value": wall(MAIL, no_plan(0), None)}, "value"),
+    (late_story, {"desk": LOCK, "plan": PLAN, "goal": (3, 4)}),
+    (late_story_holds, {"desk": LOCK, "plan": PLAN, "goal": (3, 4), "history": LOCKED}),
+    (fresh_ledger, {"desk": MAIL, "things": (0, 0)}), (ledger_of, {"desk": MAIL, "history": HISTORY, "waiting": (0, 1)}),
+    (tried_ledger, {"desk": MAIL, "ledger": LEDGER, "one": (1, (1,)), "waits": True}),
+    (yes_ledger, {"desk": MAIL, "ledger": LEDGER, "place": 1}), (no_ledger, {"desk": MAIL, "ledger": LEDGER, "place": 1}),
+    (edge_price, {"desk": MAIL, "ledger": LEDGER, "lot": (1,), "place": 0}), (bad_edges, {"desk": MAIL, "ledger": LEDGER}),
+    (bill, {"desk": MAIL, "ledger": LEDGER}), (lets, HELD), (dearest_order, {"desk": MAIL, "ledger": LEDGER, "lot": (0, 1)}),
+    (cheapest_order, {"desk": MAIL, "ledger": LEDGER, "lot": (0, 1)}), (least_yeses, HELD), (broken_lots, HELD), (sure_asks, HELD),
+    (asks_needed, HELD), (ask_tree, HELD), (tree_asks, {**HELD, "value": ask_tree(**HELD)}, "value"), (firm_table, HELD),
+    (firm_holds, {**HELD, "value": firm_table(**HELD)}, "value"),
+    (need_rules, {"desk": MAIL, "value": RULES}), (rule_serves, {"desk": MAIL, "tool": 0, "waits": (1,)}),
+    (is_silent, {"desk": MAIL, "rules": RULES}), (loud_run, {"desk": MAIL, "rules": RULES}),
+    (loud_holds, {"desk": MAIL, "rules": RULES, "value": loud_run(MAIL, RULES)}, "value"),
 )
 
 
@@ -122,7 +154,8 @@ class AllCalls(Case):
             self.same(guard_table(fresh, (), ()), guard_table(desk, (), ()))
 
     def test_whether_is_a_bool(self):
-        for call in (is_total, closed_holds, all_done, alike_histories, is_kept, serves):
+        for call in (is_total, closed_holds, all_done, alike_histories, is_kept, serves, table_holds, is_calm, wall_holds, lets, rule_serves,
+                     is_silent, loud_holds, late_story_holds):
             named = next(row[1] for row in CALLS if row[0] == call)
             self.assertIs(type(call(**named)), bool)
         for row in outcomes(MAIL, HISTORY) + tried(MAIL, (0,), (0, (0,)))[1:] + played(MAIL, (0, 1, 0), (1, 0, ()))[:2]:

@@ -41,6 +41,30 @@ FUNCTIONS = {
         "all_guards": "desk offers", "with_bought": "desk offers lot", "guard_table": "desk offers lot",
         "value_of": "desk offers tool lot", "is_kept": "value promise", "serves": "desk offers tool lot promise",
     },
+    "holding": {
+        "fresh_ledger": "desk things", "ledger_of": "desk history waiting", "tried_ledger": "desk ledger one waits",
+        "yes_ledger": "desk ledger place", "no_ledger": "desk ledger place", "edge_price": "desk ledger lot place",
+        "bad_edges": "desk ledger", "bill": "desk ledger", "lets": "desk ledger one waits bound",
+        "dearest_order": "desk ledger lot", "cheapest_order": "desk ledger lot",
+    },
+    "notes": {"noted": "desk kind note look", "leaning": "desk tool note lets eats"},
+    "silence": {
+        "need_rules": "desk value", "rule_serves": "desk tool waits", "is_silent": "desk rules", "loud_run": "desk rules",
+        "loud_holds": "desk rules value",
+    },
+    "tables": {
+        "base": "desk number sort", "table": "desk number", "table_holds": "desk number value", "worst_of": "desk tool number",
+    },
+    "walls": {
+        "wall": "desk plan goal", "is_calm": "desk plan goal", "wall_holds": "desk plan goal value",
+        "late_story": "desk plan goal", "late_story_holds": "desk plan goal history",
+    },
+    "asking": {
+        "least_yeses": "desk ledger one waits bound", "broken_lots": "desk ledger one waits bound",
+        "sure_asks": "desk ledger one waits bound", "asks_needed": "desk ledger one waits bound",
+        "ask_tree": "desk ledger one waits bound", "tree_asks": "desk ledger one waits bound value",
+        "firm_table": "desk ledger one waits bound", "firm_holds": "desk ledger one waits bound value",
+    },
 }
 CLASSES = {
     "desks": {"Desk": ("kinds tools repairs", {"behind": "tool befores"})},

@@ -17,7 +17,7 @@ BUILTINS = set(
     "divmod Exception ValueError TypeError KeyError IndexError".split()
 )
 METHODS = set(
-    "append clear copy count endswith extend find get index insert items join keys lower lstrip partition pop remove "
+    "append bit_length clear copy count endswith extend find get index insert items join keys lower lstrip partition pop remove "
     "replace reverse rfind rstrip setdefault split startswith strip update upper values".split()
 )
 # the words that L17 bars, and the names that it bars
@@ -37,7 +37,7 @@ ATTRIBUTES = set(
 )
 STATEMENTS = (
     ast.FunctionDef, ast.ClassDef, ast.Return, ast.Assign, ast.AugAssign, ast.For, ast.While, ast.If, ast.Raise, ast.Expr,
-    ast.Pass, ast.Break, ast.Continue, ast.ImportFrom,
+    ast.Pass, ast.Break, ast.Continue, ast.ImportFrom, ast.Try,
 )
 BARRED = (
     ast.Lambda, ast.Yield, ast.YieldFrom, ast.Set, ast.SetComp, ast.GeneratorExp, ast.Await, ast.NamedExpr, ast.Starred,
@@ -162,6 +162,16 @@ class Code(unittest.TestCase):
                     for sign, side in zip(node.ops, node.comparators):
                         if isinstance(sign, (ast.Is, ast.IsNot)):
                             self.assertTrue(isinstance(side, ast.Constant) and side.value in (None, True, False), where)
+
+    def test_handlers_name_own_errors(self):
+        own = [one.name for _, tree in trees() for one in tree.body if isinstance(one, ast.ClassDef)]
+        for name, tree in trees():
+            for node in ast.walk(tree):
+                if isinstance(node, ast.Try):
+                    self.assertEqual(node.finalbody, [], (name, node.lineno))
+                    for handler in node.handlers:
+                        self.assertIsInstance(handler.type, ast.Name, (name, handler.lineno))
+                        self.assertIn(handler.type.id, own, (name, handler.lineno))
 
     def test_nothing_is_nested_or_annotated(self):
         for name, tree in trees():

@@ -1,0 +1,97 @@
+"""Ways: rows of hops from what a No leaves, one pair going on from step to step, and histories that go them."""
+
+from lateno.reach import history_with, sorts_among
+from lateno.steps import beginnings_with, step_played, steps_of_kind
+
+
+def all_hops(desk, comes, waits):
+    """For each sort all (hop, pair that it goes on with) by tools that don't wait, ascending."""
+    found = {}
+    for sort in sorts_among(comes):
+        hops = []
+        for step in steps_of_kind(desk, comes, sort[0]):
+            if step[0] not in waits:
+                pairs = step_played(desk, sort, step)[2]
+                hops.extend([(step + (on,), pair) for on, pair in enumerate(pairs) if pair[1] != pair[2]])
+        found[sort] = tuple(hops)
+    return found
+
+
+def first_ways(desk, comes, tool):
+    """For each pair that a No to a try of the tool leaves apart the first (row, role) that does."""
+    found = {}
+    for row, pairs in beginnings_with(desk, comes, tool):
+        for role, pair in enumerate(pairs):
+            if pair[1] != pair[2]:
+                found.setdefault(pair, (row, role))
+    return found
+
+
+def hops_behind(hops, starts):
+    """For each sort that these sorts come to the fewest hops there: (the start, the hops); starts among them."""
+    found = {start: (start, ()) for start in starts}
+    layer = list(found)
+    while layer:
+        reached = []
+        for sort in layer:
+            start, told = found[sort]
+            for hop, pair in hops[sort]:
+                if pair not in found:
+                    found[pair] = (start, told + (hop,))
+                    reached.append(pair)
+        layer = reached
+    return found
+
+
+def way_to(desk, comes, tool, hops, is_wanted):
+    """Some way (row, role, hops) of the tool to a sort of which it is told True that it is wanted, else None."""
+    firsts = first_ways(desk, comes, tool)
+    behind = hops_behind(hops, firsts)
+    for sort in behind:
+        if is_wanted[sort]:
+            start, told = behind[sort]
+            return firsts[start] + (told,)
+    return None
+
+
+def way_history(desk, tool, way):
+    """(things, tries, number of the tool's try) of some history that goes a way; all else stands ready ahead of it."""
+    row, role, hops = way
+    wants = []
+    tries = []
+    members = add_first(desk, wants, tries, tool, row)
+    thing = members[role]
+    for hop in hops:
+        thing = add_step(desk, wants, tries, thing, hop[:3])[hop[3]]
+    return history_behind(desk, wants, tries)
+
+
+def add_first(desk, wants, tries, tool, row):
+    """Adds a try of the tool's row on fresh things; its members."""
+    return _add_try(desk, wants, tries, tool, list(desk.tools[tool][2][row][0]), -1, -1)
+
+
+def add_step(desk, wants, tries, thing, step):
+    """Adds a try of a step on a thing and on fresh others; its members."""
+    tool, role, others = step
+    return _add_try(desk, wants, tries, tool, list(others[:role]) + [0] + list(others[role:]), role, thing)
+
+
+def history_behind(desk, wants, tries):
+    """(things, tries, number of the first of these tries) of a history in which they come behind all that is wanted."""
+    things, ahead = history_with(desk, wants)
+    return (things, ahead + tuple(tries), len(ahead))
+
+
+def _add_try(desk, wants, tries, tool, states, role, thing):
+    """Adds a try on fresh things with these states, but for the thing of this role."""
+    members = []
+    for place, kind in enumerate(desk.tools[tool][1]):
+        if place == role:
+            members.append(thing)
+        else:
+            # the thing of a want has the want's number
+            members.append(len(wants))
+            wants.append((kind, states[place]))
+    tries.append((tool, tuple(members)))
+    return tuple(members)
