@@ -1,7 +1,7 @@
 """Asking: whose answers would let a held try, and how many of them are enough."""
 
 from lateno.holding import bill_behind, bits_of, edges_of, is_within, ledger_asked
-from lateno.checks import is_below, is_number, is_rising
+from lateno.checks import all_lots, is_below, is_number, is_rising
 
 
 def least_yeses(desk, ledger, one, waits, bound):
@@ -42,7 +42,7 @@ def firm_table(desk, ledger, one, waits, bound):
     asked = Asked(desk, ledger_asked(desk, ledger, one, waits, bound), bound)
     found = []
     for told in asked.lots():
-        for yeses in _lots_among(told):
+        for yeses in all_lots(told):
             nos = tuple([place for place in told if place not in yeses])
             many = asked.needed(yeses, nos)
             if many > 0:
@@ -74,7 +74,7 @@ class Asked:
 
     def lots(self):
         """All lots of places."""
-        return _lots_among(tuple(range(self.many)))
+        return all_lots(list(range(self.many)))
 
     def others(self, lot):
         """The places that are not in a lot."""
@@ -90,7 +90,7 @@ class Asked:
 
     def is_sure(self, lot):
         """Whether all answers to a lot let the try."""
-        for yeses in _lots_among(lot):
+        for yeses in all_lots(lot):
             if not self.is_let(yeses, tuple([place for place in lot if place not in yeses])):
                 return False
         return True
@@ -112,14 +112,6 @@ class Asked:
 
 def _with(lot, place):
     return tuple(sorted(lot + (place,)))
-
-
-def _lots_among(places):
-    """All lots of these places."""
-    lots = [()]
-    for place in places:
-        lots = lots + [lot + (place,) for lot in lots]
-    return lots
 
 
 def _least_of(lots):

@@ -57,6 +57,14 @@ def is_just(value, told):
     return not isinstance(value, bool) and value == told
 
 
+def all_lots(row):
+    """Each tuple of some things of a row, in the row's order; those within it stand ahead of it."""
+    lots = [()]
+    for one in row:
+        lots = lots + [lot + (one,) for lot in lots]
+    return lots
+
+
 def all_choices(rows):
     """Each tuple that has one thing of each row, ascending if the rows are."""
     found = [()]

@@ -2,19 +2,12 @@
 
 from lateno.nets import moves_behind
 from lateno.plans import heap_told, turned
+from lateno.checks import all_lots
 
 
 def all_flows(desk, plan, comes):
     """For each lot of strikes that may have come the flows there: (strikes behind, takes, gives, a move of it)."""
-    return {done: _flows_at(desk, plan, comes, done) for done in lots_of_strikes(plan)}
-
-
-def lots_of_strikes(plan):
-    """All lots of the plan's strikes."""
-    lots = [()]
-    for strike in range(len(plan[0])):
-        lots = lots + [lot + (strike,) for lot in lots]
-    return lots
+    return {done: _flows_at(desk, plan, comes, done) for done in all_lots(list(range(len(plan[0]))))}
 
 
 def lies_within(heap, other):

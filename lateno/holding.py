@@ -1,11 +1,12 @@
 """Ledgers: what waits and the worlds of all answers; what Nos cost, and which tries a desk that watches lets."""
 
-from lateno.endless import endless_last, is_at_least, total_of
-from lateno.errors import InvalidBound, InvalidHistory, InvalidIndex, InvalidLedger, InvalidLot, InvalidSize, InvalidTry
+from lateno.endless import endless_last, greatest_of, is_at_least, total_of
+from lateno.errors import InvalidBound, InvalidHistory, InvalidIndex, InvalidLedger, InvalidLot, InvalidSize
+from lateno.errors import InvalidTry
 from lateno.pairs import price_table, world_price
 from lateno.twins import lot_worlds, need_struck
 from lateno.worlds import first_world, need_history, right_try, tried
-from lateno.checks import are_below, is_below, is_number, is_row, is_row_of, rising_until
+from lateno.checks import all_lots, are_below, is_below, is_number, is_row, is_row_of, rising_until
 
 MOST_WAITING = 6
 
@@ -129,10 +130,11 @@ def bill_behind(edges, places, bits):
     """The greatest sum of a row of Nos to any of these places, behind Nos to the lot of these bits."""
     sums = {}
     # the lots with more places first, as a row goes on to these
-    for lot in reversed(_lots_of(places)):
+    for lot in reversed(all_lots(places)):
         nos = bits_of(lot)
-        ways = [total_of([edges[(bits | nos, place)], sums[nos | (1 << place)]]) for place in places if place not in lot]
-        sums[nos] = None if None in ways else max(ways, default=0)
+        free = [place for place in places if place not in lot]
+        ways = [total_of([edges[(bits | nos, place)], sums[nos | (1 << place)]]) for place in free]
+        sums[nos] = greatest_of(ways)
     return sums[0]
 
 
@@ -149,14 +151,6 @@ def bits_of(lot):
 def lot_of(bits):
     """The lot of places that a number tells."""
     return tuple([place for place in range(bits.bit_length()) if bits & (1 << place)])
-
-
-def _lots_of(places):
-    """All lots of these places, each behind all that lie within it."""
-    lots = [()]
-    for place in places:
-        lots = lots + [lot + (place,) for lot in lots]
-    return lots
 
 
 def _tried_ledger(desk, ledger, one, waits):
@@ -180,7 +174,7 @@ def _answered(desk, ledger, place, answer):
 def _best_order(edges, lot, is_dearest):
     """(the greatest or the least sum, an order of the lot that has it)."""
     best = {0: (0, ())}
-    for part in _lots_of(lot):
+    for part in all_lots(lot):
         if not part:
             continue
         found = []

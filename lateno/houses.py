@@ -3,7 +3,7 @@
 from lateno.desks import Desk
 from lateno.errors import InvalidHouse, InvalidLots, InvalidSeam
 from lateno.reach import comes_from
-from lateno.checks import all_choices, is_below, is_rising, is_row
+from lateno.checks import all_choices, all_lots, is_below, is_rising, is_row
 
 
 class House:
@@ -97,7 +97,4 @@ def _comes_with(house, lots):
 
 def _lots_with_first(many):
     """All lots of so many states with 0 among them, ascending."""
-    lots = [(0,)]
-    for state in range(1, many):
-        lots = lots + [lot + (state,) for lot in lots]
-    return sorted(lots)
+    return sorted([(0,) + lot for lot in all_lots(list(range(1, many)))])

@@ -20,6 +20,7 @@ METHODS = set(
     "append bit_length clear copy count endswith extend find get index insert items join keys lower lstrip partition pop remove "
     "replace reverse rfind rstrip setdefault split startswith strip update upper values".split()
 )
+ITERATING = ("list", "tuple", "dict", "sorted", "sum", "any", "all", "enumerate", "zip", "max", "min", "len", "reversed")
 # the words that L17 bars, and the names that it bars
 WORDS = set(
     "type typing typing_extensions enum Enum IntEnum StrEnum Flag IntFlag Generic Protocol ABC ABCMeta namedtuple "
@@ -217,6 +218,24 @@ class Code(unittest.TestCase):
             for one in ast.walk(tree):
                 if isinstance(one, ast.Attribute) and one not in called:
                     self.assertIn(one.attr, assigned, (name, one.lineno))
+
+    def test_ranges_zips_and_views_are_iterated_on_the_spot(self):
+        for name, tree in trees():
+            right = set()
+            for node in ast.walk(tree):
+                if isinstance(node, (ast.For, ast.comprehension)):
+                    right.add(node.iter)
+                if isinstance(node, ast.Call) and isinstance(node.func, ast.Name) and node.func.id in ITERATING and node.args:
+                    right |= set(node.args) if node.func.id in ("zip", "max", "min") else {node.args[0]}
+                if isinstance(node, ast.Call) and isinstance(node.func, ast.Attribute) and node.func.attr == "join":
+                    right |= set(node.args)
+                if isinstance(node, ast.Compare) and isinstance(node.ops[0], (ast.In, ast.NotIn)):
+                    right.add(node.comparators[0])
+            for node in ast.walk(tree):
+                if isinstance(node, ast.Call):
+                    called = node.func.id if isinstance(node.func, ast.Name) else node.func.attr
+                    if called in ("range", "zip", "enumerate", "reversed", "items", "keys", "values"):
+                        self.assertIn(node, right, (name, node.lineno))
 
     def test_loops_do_not_change_what_they_go_over(self):
         for name, tree in trees():

@@ -380,7 +380,7 @@ class Errors(Case):
                     size = len(wall(desk, plan, goal))
                 except InvalidSize:
                     continue
-            if not 300 < size < 600 or seen[size <= 400] == 2:
+            if not 300 < size < 900 or seen[size <= 400] == 2:
                 continue
             layers = layers_again(desk, plan, goal)
             fits = len(layers[-1]) <= 400
