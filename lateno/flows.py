@@ -41,3 +41,27 @@ def _flows_at(desk, plan, comes, done):
         gives = heap_told(roles, turned(desk, plan, tool, rows, strike)[1])
         found.setdefault((behind, heap_told(roles, rows), gives), move)
     return tuple([flow + (found[flow],) for flow in found])
+
+
+def flows_by_first(flows):
+    """For each lot of strikes the flows there, by the first sort that they take, () for those that take nothing."""
+    found = {}
+    for done in flows:
+        by_first = {}
+        for flow in flows[done]:
+            by_first.setdefault(flow[1][:1], []).append(flow)
+        found[done] = by_first
+    return found
+
+
+def led_from(by_first, standing):
+    """(standing behind, move) of the flows that can be done at a standing, told by what they take first."""
+    done, heap = standing
+    flows = list(by_first[done].get((), []))
+    for sort in {one: True for one in heap}:
+        flows.extend(by_first[done].get((sort,), []))
+    found = []
+    for behind, takes, gives, move in flows:
+        if lies_within(takes, heap):
+            found.append(((behind, tuple(sorted(heap_less(heap, takes) + list(gives)))), move))
+    return found

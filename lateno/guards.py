@@ -58,6 +58,21 @@ def serves(desk, offers, tool, lot, promise):
     return _keeps(_value_of(desk, offers, tool, lot), promise)
 
 
+def value_rank(value):
+    """What values are ordered by, the better ones first."""
+    if len(value) == 2:
+        return (0, value[1])
+    return (1, 0) if value == GROWS else (2, 0)
+
+
+def right_value(value):
+    """The value of a No in a tuple, None if it is none."""
+    if not is_row(value):
+        return None
+    told = tuple(value)
+    return told if told == BAD or told == GROWS or _is_most(told) else None
+
+
 def need_lot(desk, offers, value):
     """The lot of guards in tuples, if the value is one."""
     if not is_row(value):

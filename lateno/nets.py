@@ -119,9 +119,14 @@ def _is_sort(desk, plan, comes, done, value):
     return is_apart(row) and fits(plan, done, row)
 
 
+def heap_in_tuples(heap):
+    """A heap that is handed in, in tuples."""
+    return tuple([(kind, tuple(row)) for kind, row in heap])
+
+
 def _told_standing(standing):
     done, heap = standing
-    return (tuple(done), tuple([(kind, tuple(row)) for kind, row in heap]))
+    return (tuple(done), heap_in_tuples(heap))
 
 
 def _some_apart(rows):

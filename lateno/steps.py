@@ -17,7 +17,10 @@ def played(desk, sort, step):
     """(done in the one, done in the other, for each role the pair behind the step)."""
     comes = what_comes(desk)
     sort = need_sort(desk, comes, sort)
-    return step_played(desk, sort, _need_step(desk, comes, sort[0], step))
+    step = right_step(desk, comes, sort[0], step)
+    if step is None:
+        raise InvalidStep(-1)
+    return step_played(desk, sort, step)
 
 
 def beginnings(desk, tool):
@@ -71,18 +74,19 @@ def apart_of(pairs):
     return tuple([pair for pair in pairs if pair[1] != pair[2]])
 
 
-def _need_step(desk, comes, kind, step):
-    if not is_row_of(step, 3) or not is_below(step[0], len(desk.tools)):
-        raise InvalidStep(-1)
-    tool, role, others = step
+def right_step(desk, comes, kind, value):
+    """The value as a step of sorts of the kind, in tuples, None if it is none."""
+    if not is_row_of(value, 3) or not is_below(value[0], len(desk.tools)):
+        return None
+    tool, role, others = value
     roles = desk.tools[tool][1]
     if not is_below(role, len(roles)) or roles[role] != kind:
-        raise InvalidStep(-1)
+        return None
     rest = roles[:role] + roles[role + 1:]
     if not is_row_of(others, len(rest)):
-        raise InvalidStep(-1)
+        return None
     if not all([_is_state_of(desk, comes, other, state) for other, state in zip(rest, others)]):
-        raise InvalidStep(-1)
+        return None
     return (tool, role, tuple(others))
 
 

@@ -71,19 +71,19 @@ def bases_of(desk, comes, number):
     return {sort: base_of(prices, number, sort) for sort in sorts_among(comes)}
 
 
-def step_lines(desk, comes, number, sort):
-    """For each step of a sort (step, its gain, the (role, pair) that it gives)."""
-    found = []
-    for step in steps_of_kind(desk, comes, sort[0]):
-        told = step_played(desk, sort, step)
-        gives = [(role, pair) for role, pair in enumerate(told[2]) if pair[1] != pair[2]]
-        found.append((step, _gain_of(number, step, told[0] != told[1], gives), tuple(gives)))
-    return tuple(found)
+def step_line(desk, number, sort, step):
+    """(a step of a sort, its gain, the (role, pair) that it gives)."""
+    here, there, pairs = step_played(desk, sort, step)
+    gives = [(role, pair) for role, pair in enumerate(pairs) if pair[1] != pair[2]]
+    return (step, _gain_of(number, step, here != there, gives), tuple(gives))
 
 
 def all_step_lines(desk, comes, number):
-    """For each sort its step lines."""
-    return {sort: step_lines(desk, comes, number, sort) for sort in sorts_among(comes)}
+    """For each sort the step lines of all its steps."""
+    found = {}
+    for sort in sorts_among(comes):
+        found[sort] = [step_line(desk, number, sort, step) for step in steps_of_kind(desk, comes, sort[0])]
+    return found
 
 
 def given_of(gives):

@@ -1,7 +1,8 @@
 """Ways: rows of hops from what a No leaves, one pair going on from step to step, and histories that go them."""
 
 from lateno.reach import history_with, sorts_among
-from lateno.steps import beginnings_with, step_played, steps_of_kind
+from lateno.steps import apart_of, beginnings_with, right_step, step_played, steps_of_kind
+from lateno.checks import is_below, is_just
 
 
 def all_hops(desk, comes, waits):
@@ -54,6 +55,28 @@ def way_to(desk, comes, tool, hops, is_wanted):
     return None
 
 
+def hops_end(desk, comes, sort, value):
+    """The sort that any value leads to from this one, if it is a tuple of hops, else None."""
+    if not isinstance(value, tuple):
+        return None
+    for hop in value:
+        sort = _hop_end(desk, comes, sort, hop)
+        if sort is None:
+            return None
+    return sort
+
+
+def way_end(desk, comes, tool, value):
+    """The sort that any value leads to, if it is a way of the tool in tuples, else None."""
+    if not isinstance(value, tuple) or len(value) != 3:
+        return None
+    row, role, hops = value
+    pairs = [told for number, told in beginnings_with(desk, comes, tool) if is_just(row, number)]
+    if not pairs or not is_below(role, len(pairs[0])) or not apart_of(pairs[0][role:role + 1]):
+        return None
+    return hops_end(desk, comes, pairs[0][role], hops)
+
+
 def way_history(desk, tool, way):
     """(things, tries, number of the tool's try) of some history that goes a way; all else stands ready ahead of it."""
     row, role, hops = way
@@ -81,6 +104,19 @@ def history_behind(desk, wants, tries):
     """(things, tries, number of the first of these tries) of a history in which they come behind all that is wanted."""
     things, ahead = history_with(desk, wants)
     return (things, ahead + tuple(tries), len(ahead))
+
+
+def _hop_end(desk, comes, sort, value):
+    """The sort that any value goes on with from this one, if it is a hop in tuples, else None."""
+    if not isinstance(value, tuple) or len(value) != 4:
+        return None
+    step = right_step(desk, comes, sort[0], value[:3])
+    if step is None or not is_just(value[:3], step):
+        return None
+    pairs = step_played(desk, sort, step)[2]
+    if not is_below(value[3], len(pairs)) or not apart_of(pairs[value[3]:value[3] + 1]):
+        return None
+    return pairs[value[3]]
 
 
 def _add_try(desk, wants, tries, tool, states, role, thing):

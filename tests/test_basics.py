@@ -4,7 +4,11 @@ import time
 import unittest
 
 from lateno.asking import ask_tree, asks_needed, broken_lots, firm_holds, firm_table, least_yeses, sure_asks, tree_asks
+from lateno.bridge import bridge, totalled
+from lateno.contracts import contract_holds, contract_table, least_contract
+from lateno.counts import counted
 from lateno.desks import Desk, is_total, kind_number, need_offers, tool_number, with_repairs
+from lateno.exact import exact, exact_holds
 from lateno.guards import all_guards, guard_table, is_kept, serves, value_of, with_bought
 from lateno.holding import bad_edges, bill, cheapest_order, dearest_order, edge_price, fresh_ledger, ledger_of, lets, no_ledger
 from lateno.holding import tried_ledger, yes_ledger
@@ -13,7 +17,9 @@ from lateno.nets import history_of, net_led, net_moves, net_steps, run_of
 from lateno.notes import leaning, noted
 from lateno.pairs import least_price, repair_price, repair_row
 from lateno.plans import both_plan, columns_of, heap_of, no_plan, row_plan, stands_of
+from lateno.prices import closed_lot, closed_lot_holds, price_of, worst
 from lateno.reach import closed_holds, ready, sorts, what_comes
+from lateno.reaching import bad_way, is_safe, reached, ring, ring_holds, way_holds
 from lateno.silence import is_silent, loud_holds, loud_run, need_rules, rule_serves
 from lateno.steps import beginnings, played, steps
 from lateno.tables import base, table, table_holds, worst_of
@@ -23,6 +29,7 @@ from lateno.walls import is_calm, late_story, late_story_holds, wall, wall_holds
 from lateno.worlds import all_done, alike_count, alike_histories, interleaved, need_history, normal_history, outcomes
 from lateno.worlds import thing_rows, tried, world_behind, worlds_along
 from samples import LOCK, MAIL, Case, as_lists, is_tuples
+from table_samples import COPIED
 
 HISTORY = ((0, 0), ((0, (0,)), (1, (0,)), (0, (0,)), (0, (1,))))
 LOCKED = ((0,), ((0, (0,)), (1, (0,)), (2, (0,))), (1, 0))
@@ -35,6 +42,8 @@ LEDGER = ledger_of(MAIL, HISTORY, (0, 1))
 HELD = {"desk": MAIL, "ledger": LEDGER, "one": (0, (0,)), "waits": True, "bound": 9}
 NOTED = noted(MAIL, 0, "note", "look")
 RULES = ((0, ()), (1, (0,)))
+BOUGHT = with_repairs(MAIL, OFFERS)
+JOINED = (House(BOUGHT, 1), House(Desk(BOUGHT.kinds, (("back", (0,), (((2,), (0,)),)),), BOUGHT.repairs), 1))
 
 # (function, its arguments in their order, which of them may hold no lists)
 CALLS = (
@@ -93,6 +102,18 @@ CALLS = (
     (need_rules, {"desk": MAIL, "value": RULES}), (rule_serves, {"desk": MAIL, "tool": 0, "waits": (1,)}),
     (is_silent, {"desk": MAIL, "rules": RULES}), (loud_run, {"desk": MAIL, "rules": RULES}),
     (loud_holds, {"desk": MAIL, "rules": RULES, "value": loud_run(MAIL, RULES)}, "value"),
+    (counted, {"desk": MAIL, "history": HISTORY, "struck": (0,), "number": ("otherwise", (0, 1))}),
+    (is_safe, {"desk": MAIL, "tool": 0}), (bad_way, {"desk": MAIL, "tool": 0}),
+    (way_holds, {"desk": MAIL, "tool": 0, "value": bad_way(MAIL, 0)}, "value"), (ring, {"desk": COPIED, "tool": 0, "number": PRICE}),
+    (ring_holds, {"desk": COPIED, "tool": 0, "number": PRICE, "value": ring(COPIED, 0, PRICE)}, "value"),
+    (reached, {"desk": COPIED, "tool": 0, "number": ("touched", (0,)), "least": 3}),
+    (exact, {"desk": COPIED, "number": ("otherwise", (0, 1))}),
+    (exact_holds, {"desk": COPIED, "number": PRICE, "value": exact(COPIED, PRICE)}, "value"),
+    (price_of, {"desk": BOUGHT, "plan": no_plan(0), "heap": ((0, (2, 0)), (0, (2, 1)))}), (worst, {"desk": BOUGHT, "plan": row_plan((0, 0))}),
+    (closed_lot, {"desk": BOUGHT, "plan": no_plan(0)}),
+    (closed_lot_holds, {"desk": BOUGHT, "plan": no_plan(0), "most": 3, "value": closed_lot(BOUGHT, no_plan(0))}, "value"),
+    (totalled, {"desk": MAIL}), (bridge, {"desk": MAIL, "tool": 0}), (contract_table, {"house": JOINED[0], "contract": least_contract(*JOINED)}),
+    (contract_holds, {"house": JOINED[0], "value": least_contract(*JOINED)}, "value"), (least_contract, {"house": JOINED[0], "other": JOINED[1]}),
 )
 
 
@@ -155,7 +176,7 @@ class AllCalls(Case):
 
     def test_whether_is_a_bool(self):
         for call in (is_total, closed_holds, all_done, alike_histories, is_kept, serves, table_holds, is_calm, wall_holds, lets, rule_serves,
-                     is_silent, loud_holds, late_story_holds):
+                     is_silent, loud_holds, late_story_holds, is_safe, way_holds, ring_holds, exact_holds, closed_lot_holds, contract_holds):
             named = next(row[1] for row in CALLS if row[0] == call)
             self.assertIs(type(call(**named)), bool)
         for row in outcomes(MAIL, HISTORY) + tried(MAIL, (0,), (0, (0,)))[1:] + played(MAIL, (0, 1, 0), (1, 0, ()))[:2]:

@@ -65,6 +65,20 @@ FUNCTIONS = {
         "ask_tree": "desk ledger one waits bound", "tree_asks": "desk ledger one waits bound value",
         "firm_table": "desk ledger one waits bound", "firm_holds": "desk ledger one waits bound value",
     },
+    "contracts": {
+        "contract_table": "house contract", "contract_holds": "house value", "least_contract": "house other",
+    },
+    "counts": {"counted": "desk history struck number"},
+    "prices": {
+        "price_of": "desk plan heap", "closed_lot": "desk plan", "worst": "desk plan",
+        "closed_lot_holds": "desk plan most value",
+    },
+    "reaching": {
+        "is_safe": "desk tool", "bad_way": "desk tool", "way_holds": "desk tool value", "ring": "desk tool number",
+        "ring_holds": "desk tool number value", "reached": "desk tool number least",
+    },
+    "bridge": {"totalled": "desk", "bridge": "desk tool"},
+    "exact": {"exact": "desk number", "exact_holds": "desk number value"},
 }
 CLASSES = {
     "desks": {"Desk": ("kinds tools repairs", {"behind": "tool befores"})},
