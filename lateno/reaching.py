@@ -149,9 +149,14 @@ def _layers_to(lines, bases, starts, least):
     layer = {sort: least if bases[sort] is None else min(bases[sort], least) for sort in bases}
     layers = [layer]
     while not any([sum([layer[pair] for pair in pairs]) >= least for _, pairs in starts]):
-        layer = {sort: max([layer[sort]] + [_line_number(layer, line, least) for line in lines[sort]]) for sort in lines}
+        layer = {sort: _next_number(layer, sort, lines[sort], least) for sort in lines}
         layers.append(layer)
     return layers
+
+
+def _next_number(layer, sort, told, least):
+    """The number of a sort with one step more."""
+    return max([layer[sort]] + [_line_number(layer, line, least) for line in told])
 
 
 def _line_number(layer, line, least):

@@ -8,7 +8,7 @@ from lateno.desks import Desk
 from lateno.errors import InvalidContract, InvalidDesk, InvalidHouse, InvalidSeam
 from lateno.guards import guard_table
 from lateno.houses import House, closed_lots, comes_with, join_houses
-from samples import COPY, MAIL, Case, as_lists, befores_of, is_tuples, nested, no_bools, odd_values, random_repairs, spoilt
+from samples import MAIL, Case, as_lists, befores_of, is_tuples, nested, no_bools, odd_values, random_repairs, spoilt
 from table_samples import BOUGHT, given, play, price_again
 
 BAD, GROWS = ("bad",), ("grows",)

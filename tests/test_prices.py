@@ -7,13 +7,12 @@ from lateno.errors import InvalidPlan, InvalidSize
 from lateno.nets import net_moves, net_steps
 from lateno.plans import both_plan, heap_of, no_plan, row_plan
 from lateno.prices import closed_lot, closed_lot_holds, price_of, worst
+from lateno.reach import what_comes
 from lateno.walls import is_calm
-from plan_samples import random_plan_history
-from samples import LOCK, MAIL, Case, as_lists, is_tuples, no_bools, odd_values, spoilt
+from plan_samples import above, are_standings, fitting, random_fear, random_plan_history
+from samples import LOCK, MAIL, Case, as_lists, odd_values, spoilt
 from table_samples import BOUGHT, COPIED, price_again
 from test_nets import led_again
-from test_walls import above, fitting, random_fear
-from lateno.reach import what_comes
 
 FIRST = ((), ())
 BOUGHT_LOT = (((), ()), ((0,), ((0, (1, 0)),)), ((0,), ((0, (2, 0)),)))
@@ -65,20 +64,11 @@ def has_ring(desk, plan, standings):
 
 def closed_again(desk, plan, most, value):
     """[28] told again for any value."""
-    comes = what_comes(desk)
-    if type(value) is not tuple or not is_tuples(value) or not no_bools(value):
+    if not are_standings(desk, plan, value):
         return False
-    for one in value:
-        if type(one) is not tuple or len(one) != 2 or type(one[0]) is not tuple or type(one[1]) is not tuple:
-            return False
-        if any(type(strike) is not int or not 0 <= strike < len(plan[0]) for strike in one[0]) or list(one[0]) != sorted(set(one[0])):
-            return False
-        if any(sort not in fitting(plan, comes, one[0]) for sort in one[1]) or list(one[1]) != sorted(one[1]):
-            return False
-        if len(one[0]) == len(plan[0]):
-            price = heap_price_again(desk, plan, one[1])
-            if price is None or price > most:
-                return False
+    prices = [heap_price_again(desk, plan, heap) for done, heap in value if len(done) == len(plan[0])]
+    if any(price is None or price > most for price in prices):
+        return False
     return FIRST in value and all(behind in value for one in value for _, behind in net_steps(desk, plan, one))
 
 

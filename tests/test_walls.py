@@ -1,7 +1,6 @@
 """[26], [27]: walls, calm plans, papers of walls, stories."""
 
 import collections
-import functools
 import itertools
 import unittest
 import unittest.mock
@@ -12,27 +11,12 @@ from lateno.nets import net_led, net_moves, run_of
 from lateno.plans import both_plan, columns_of, no_plan, row_plan
 from lateno.reach import what_comes
 from lateno.walls import is_calm, late_story, late_story_holds, wall, wall_holds
-from plan_samples import possible_tools, random_plan, random_plan_history
-from samples import COPY, LOCK, MAIL, Case, as_lists, is_tuples, no_bools, odd_values, random_desk, spoilt
+from plan_samples import above, are_standings, fitting, possible_tools, random_fear, random_plan_history
+from samples import COPY, LOCK, MAIL, Case, as_lists, odd_values, random_desk, spoilt
 from table_samples import price_again
 from test_nets import led_again
 
 FIRST = ((), ())
-
-
-def all_standings_of(plan, comes, done):
-    """All rows that are apart and fit, as sorts."""
-    found = []
-    for kind, lot in enumerate(comes):
-        for row in itertools.product(lot, repeat=len(plan[1]) + 1):
-            if len(set(row)) > 1 and all(strike in done or row[j + 1] == row[parent] for j, (parent, strike) in enumerate(plan[1])):
-                found.append((kind, row))
-    return found
-
-
-@functools.lru_cache(maxsize=None)
-def fitting(plan, comes, done):
-    return frozenset(all_standings_of(plan, comes, done))
 
 
 def is_feared(desk, plan, goal, sort):
@@ -44,12 +28,7 @@ def is_feared(desk, plan, goal, sort):
 
 def goals_again(desk, plan, goal):
     strikes = tuple(range(len(plan[0])))
-    return [(strikes, (sort,)) for sort in all_standings_of(plan, what_comes(desk), strikes) if is_feared(desk, plan, goal, sort)]
-
-
-def above(standing, other):
-    """Whether a standing lies above another."""
-    return standing[0] == other[0] and not collections.Counter(other[1]) - collections.Counter(standing[1])
+    return [(strikes, (sort,)) for sort in sorted(fitting(plan, what_comes(desk), strikes)) if is_feared(desk, plan, goal, sort)]
 
 
 def least(standings):
@@ -104,54 +83,13 @@ def layers_again(desk, plan, goal):
 def paper_again(desk, plan, goal, value):
     """[27] told again for any value."""
     comes = what_comes(desk)
-    if type(value) is not tuple or not is_tuples(value) or not no_bools(value):
-        return False
-    for one in value:
-        if type(one) is not tuple or len(one) != 2 or type(one[0]) is not tuple or type(one[1]) is not tuple:
-            return False
-        if any(type(strike) is not int or not 0 <= strike < len(plan[0]) for strike in one[0]):
-            return False
-        if list(one[0]) != sorted(set(one[0])) or any(sort not in fitting(plan, comes, one[0]) for sort in one[1]):
-            return False
-        if list(one[1]) != sorted(one[1]):
-            return False
-    if FIRST in value:
+    if not are_standings(desk, plan, value) or FIRST in value:
         return False
     flows = flows_again(desk, plan)
     wanted = set(goals_again(desk, plan, goal))
     for one in value:
         wanted |= back_again(plan, comes, flows, one)
     return all(any(above(one, other) for other in value) for one in wanted)
-
-
-def random_fear(rng, rows=300):
-    """(desk, plan, goal) of a net small enough to be told again."""
-    while True:
-        repairs = rng.choice([0.2, 0.5, 0.9])
-        desk = random_desk(rng, kinds=rng.choice([1, 2]), states=3, tools=3, fill=rng.choice([0.2, 0.4, 0.7]))
-        ways = [(k, x, y) for k, (_, many) in enumerate(desk.kinds) for x in range(many) for y in range(many) if x != y]
-        desk = Desk(desk.kinds, desk.tools, [way + (rng.randint(1, 5),) for way in ways if rng.random() < repairs])
-        tools = possible_tools(desk)
-        if not tools:
-            continue
-        shape = rng.randrange(4)
-        plan = no_plan(rng.choice(tools))
-        if shape == 1:
-            plan = row_plan((rng.choice(tools), rng.choice(tools)))
-        if shape == 2:
-            plan = both_plan(rng.choice(tools), rng.choice(tools))
-        if shape == 3:
-            plan = random_plan(rng, desk, 2, 2)
-        comes = what_comes(desk)
-        total = 0
-        for _, roles, _ in desk.tools:
-            many = 1
-            for kind in roles:
-                many *= len(comes[kind]) ** (len(plan[1]) + 1)
-            total += many
-        if total <= rows:
-            columns = sorted(rng.sample(range(len(plan[1]) + 1), 2))
-            return desk, plan, rng.choice([None, tuple(columns)])
 
 
 class Walls(Case):
