@@ -31,18 +31,6 @@ def heap_less(heap, other):
     return left
 
 
-def _flows_at(desk, plan, comes, done):
-    """The flows behind these strikes, each once, by their least moves."""
-    found = {}
-    for move in moves_behind(desk, plan, comes, done):
-        tool, rows, strike = move
-        roles = desk.tools[tool][1]
-        behind = done if strike == -1 else tuple(sorted(done + (strike,)))
-        gives = heap_told(roles, turned(desk, plan, tool, rows, strike)[1])
-        found.setdefault((behind, heap_told(roles, rows), gives), move)
-    return tuple([flow + (found[flow],) for flow in found])
-
-
 def flows_by_first(flows):
     """For each lot of strikes the flows there, by the first sort that they take, () for those that take nothing."""
     found = {}
@@ -65,3 +53,15 @@ def led_from(by_first, standing):
         if lies_within(takes, heap):
             found.append(((behind, tuple(sorted(heap_less(heap, takes) + list(gives)))), move))
     return found
+
+
+def _flows_at(desk, plan, comes, done):
+    """The flows behind these strikes, each once, by their least moves."""
+    found = {}
+    for move in moves_behind(desk, plan, comes, done):
+        tool, rows, strike = move
+        roles = desk.tools[tool][1]
+        behind = done if strike == -1 else tuple(sorted(done + (strike,)))
+        gives = heap_told(roles, turned(desk, plan, tool, rows, strike)[1])
+        found.setdefault((behind, heap_told(roles, rows), gives), move)
+    return tuple([flow + (found[flow],) for flow in found])

@@ -45,7 +45,7 @@ def hops_behind(hops, starts):
 
 
 def way_to(desk, comes, tool, hops, is_wanted):
-    """Some way (row, role, hops) of the tool to a sort of which it is told True that it is wanted, else None."""
+    """Some way (row, role, hops) of the tool to a sort that is_wanted, a dict over sorts, marks True; else None."""
     firsts = first_ways(desk, comes, tool)
     behind = hops_behind(hops, firsts)
     for sort in behind:
