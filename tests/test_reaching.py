@@ -195,6 +195,11 @@ class Rings(Case):
         for number in (touched, other, sign, ("apart", (0,)), PRICE):
             self.same(ring_holds(COPIED, 0, number, ring(COPIED, 0, number)), True)
         self.same(ring(COPIED, 0, ("apart", ())), None)
+        # what is led to must be apart still, and what gains must be a step in tuples
+        alike = (1, ((0, 0, (), 0),), None)
+        self.same(ring_holds(COPIED, 0, ("apart", (0,)), ((0, 0, ()), ((1, 0, (0,), 0),), alike)), False)
+        for last in ([0, 0, ()], (0, 0, []), (False, 0, ()), (0, False, ()), (0, 0), (0, 0, (), 0), (2, 0, ()), (0, 1, ()), 0, True):
+            self.same(ring_holds(COPIED, 0, sign, ((0, 0, ()), ((1, 0, (0,), 0),), (1, (), last))), False)
 
     def test_against_telling_again(self):
         rng = self.rng(3)

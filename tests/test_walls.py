@@ -302,6 +302,23 @@ class Errors(Case):
         self.same(wall_holds(desk, both_plan(0, 0), None, ()), False)
         self.same(late_story_holds(desk, both_plan(0, 0), None, ((0, 0), ((0, (0,)), (0, (1,))), (0, 1))), True)
 
+    def test_layers_of_just_400_and_of_401(self):
+        up = lambda name, kind, many: (name, (kind,), [((x,), (x + 1,)) for x in range(many - 1)])
+        plan = both_plan(0, 1)
+        desk = Desk((("a", 3), ("b", 3)), (up("upa", 0, 3), up("upb", 1, 3)),
+                    ((0, 1, 2, 1), (0, 2, 0, 1), (0, 2, 1, 1), (1, 0, 2, 1), (1, 2, 0, 1)))
+        layers = layers_again(desk, plan, None)
+        self.same([len(layer) for layer in layers], [354, 396, 400])
+        self.same(wall(desk, plan, None), tuple(sorted(layers[-1])))
+        self.assertIs(type(is_calm(desk, plan, None)), bool)
+        desk = Desk((("a", 2), ("b", 3), ("c", 3)), (up("upa", 0, 2), up("upb", 1, 3), up("upc", 2, 3)),
+                    ((0, 0, 1, 1), (1, 0, 2, 1), (1, 2, 0, 1), (1, 2, 1, 1), (2, 0, 1, 1), (2, 1, 0, 1), (2, 2, 0, 1), (2, 2, 1, 1)))
+        layers = layers_again(desk, plan, None)
+        self.same([len(layer) for layer in layers], [328, 400, 401])
+        for call in (wall, is_calm, late_story):
+            self.fails(InvalidSize, "wall", call, desk, plan, None)
+        self.same(wall_holds(desk, plan, None, tuple(layers[-1])), False)
+
     def test_layers_decide(self):
         rng = self.rng(5)
         seen = {True: 0, False: 0}
