@@ -1,25 +1,26 @@
 """Asking: whose answers would let a held try, and how many of them are enough."""
 
 from lateno.holding import bill_behind, bits_of, edges_of, is_within, ledger_asked
+from lateno.lots import least_of, others_of, with_one
 from lateno.checks import all_lots, is_below, is_number, is_rising
 
 
 def least_yeses(desk, ledger, one, waits, bound):
     """All least lots of places such that a yes to each of them lets the try, ascending."""
     asked = Asked(desk, ledger_asked(desk, ledger, one, waits, bound), bound)
-    return _least_of([lot for lot in asked.lots() if asked.is_let(lot, ())])
+    return least_of([lot for lot in asked.lots() if asked.is_let(lot, ())])
 
 
 def broken_lots(desk, ledger, one, waits, bound):
     """All least lots of places such that a yes to all others doesn't let the try, ascending."""
     asked = Asked(desk, ledger_asked(desk, ledger, one, waits, bound), bound)
-    return _least_of([lot for lot in asked.lots() if not asked.is_let(asked.others(lot), ())])
+    return least_of([lot for lot in asked.lots() if not asked.is_let(asked.others(lot), ())])
 
 
 def sure_asks(desk, ledger, one, waits, bound):
     """All least lots of places whose answers let the try whatever they are, ascending."""
     asked = Asked(desk, ledger_asked(desk, ledger, one, waits, bound), bound)
-    return _least_of([lot for lot in asked.lots() if asked.is_sure(lot)])
+    return least_of([lot for lot in asked.lots() if asked.is_sure(lot)])
 
 
 def asks_needed(desk, ledger, one, waits, bound):
@@ -43,7 +44,7 @@ def firm_table(desk, ledger, one, waits, bound):
     found = []
     for told in asked.lots():
         for yeses in all_lots(told):
-            nos = tuple([place for place in told if place not in yeses])
+            nos = others_of(told, yeses)
             many = asked.needed(yeses, nos)
             if many > 0:
                 found.append((yeses, nos, many))
@@ -78,7 +79,7 @@ class Asked:
 
     def others(self, lot):
         """The places that are not in a lot."""
-        return tuple([place for place in range(self.many) if place not in lot])
+        return others_of(tuple(range(self.many)), lot)
 
     def is_let(self, yeses, nos):
         """Whether the try is let behind these answers."""
@@ -91,7 +92,7 @@ class Asked:
     def is_sure(self, lot):
         """Whether all answers to a lot let the try."""
         for yeses in all_lots(lot):
-            if not self.is_let(yeses, tuple([place for place in lot if place not in yeses])):
+            if not self.is_let(yeses, others_of(lot, yeses)):
                 return False
         return True
 
@@ -107,20 +108,7 @@ class Asked:
 
     def needed_by(self, yeses, nos, place):
         """How many asks are needed behind these answers if this place is asked next."""
-        return 1 + max(self.needed(_with(yeses, place), nos), self.needed(yeses, _with(nos, place)))
-
-
-def _with(lot, place):
-    return tuple(sorted(lot + (place,)))
-
-
-def _least_of(lots):
-    """Those of these lots within which no other one lies, ascending."""
-    found = []
-    for lot in lots:
-        if not any([other != lot and all([place in lot for place in other]) for other in lots]):
-            found.append(lot)
-    return tuple(sorted(found))
+        return 1 + max(self.needed(with_one(yeses, place), nos), self.needed(yeses, with_one(nos, place)))
 
 
 def _tree_behind(asked, yeses, nos):
@@ -130,7 +118,7 @@ def _tree_behind(asked, yeses, nos):
         return ()
     places = [place for place in asked.others(yeses + nos) if asked.needed_by(yeses, nos, place) == many]
     place = places[0]
-    return (place, _tree_behind(asked, _with(yeses, place), nos), _tree_behind(asked, yeses, _with(nos, place)))
+    return (place, _tree_behind(asked, with_one(yeses, place), nos), _tree_behind(asked, yeses, with_one(nos, place)))
 
 
 def _asks_of(asked, yeses, nos, value):
@@ -142,8 +130,8 @@ def _asks_of(asked, yeses, nos, value):
     if len(value) != 3 or not is_below(value[0], asked.many) or value[0] in yeses + nos:
         return None
     place = value[0]
-    behind_yes = _asks_of(asked, _with(yeses, place), nos, value[1])
-    behind_no = _asks_of(asked, yeses, _with(nos, place), value[2])
+    behind_yes = _asks_of(asked, with_one(yeses, place), nos, value[1])
+    behind_no = _asks_of(asked, yeses, with_one(nos, place), value[2])
     return None if behind_yes is None or behind_no is None else 1 + max(behind_yes, behind_no)
 
 
@@ -174,7 +162,7 @@ def _row_holds(asked, told, yeses, nos):
     if many == 1:
         return True
     for place in asked.others(yeses + nos):
-        behind = max(told.get((_with(yeses, place), nos), 0), told.get((yeses, _with(nos, place)), 0))
+        behind = max(told.get((with_one(yeses, place), nos), 0), told.get((yeses, with_one(nos, place)), 0))
         if behind < many - 1:
             return False
     return True

@@ -73,6 +73,14 @@ def need_tool(desk, tool):
         raise InvalidSize("tool")
 
 
+def is_name(value):
+    """Whether a value is a name: a few small letters."""
+    if not isinstance(value, str) or not 1 <= len(value) <= LONGEST_NAME:
+        return False
+    # islower() would let in letters beyond a to z
+    return all(["a" <= letter <= "z" for letter in value])
+
+
 def number_of_name(told, name):
     """The number of the first of what is told that begins with this name, -1 if none does."""
     for number, one in enumerate(told):
@@ -127,10 +135,7 @@ def next_repair(kinds, repairs, value):
 
 
 def _is_new_name(told, name):
-    if not isinstance(name, str) or not 1 <= len(name) <= LONGEST_NAME:
-        return False
-    # islower() would let in letters beyond a to z
-    return all(["a" <= letter <= "z" for letter in name]) and number_of_name(told, name) == -1
+    return is_name(name) and number_of_name(told, name) == -1
 
 
 def _told_kinds(kinds):

@@ -9,14 +9,18 @@ LIMITS = ((10, 400), (50, 2000))
 
 
 def all_that_come(desk, plan, comes):
-    """(for each standing that comes (the one ahead, the move), None for the first), and a ring's end, if one is met).
+    """As come_from, from the first standing of a plan's net."""
+    return come_from(flows_by_first(all_flows(desk, plan, comes)), [FIRST], "standings")
+
+
+def come_from(by_first, starts, word):
+    """(for each standing that comes (the one ahead, the move), None for a start), and a ring's end, if one is met).
 
     The ring's end is a standing that holds one ahead of it on its way and is unlike: then endlessly many come, and
-    what is told of the others is only what was met so far.
+    what is told of the others is only what was met so far. The word tells what are too many.
     """
-    by_first = flows_by_first(all_flows(desk, plan, comes))
-    links = {FIRST: None}
-    layer = [FIRST]
+    links = {start: None for start in starts}
+    layer = list(links)
     moves = 0
     while layer:
         moves += 1
@@ -28,7 +32,7 @@ def all_that_come(desk, plan, comes):
                     if held_ahead(links, behind) is not None:
                         return (links, behind)
                     found.append(behind)
-                    _need_size(moves, len(links))
+                    _need_size(moves, len(links), word)
         layer = found
     return (links, None)
 
@@ -45,7 +49,7 @@ def held_ahead(links, standing):
     return None
 
 
-def _need_size(moves, many):
+def _need_size(moves, many, word):
     for most_moves, most in LIMITS:
         if moves <= most_moves and many > most:
-            raise InvalidSize("standings")
+            raise InvalidSize(word)

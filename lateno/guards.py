@@ -16,23 +16,21 @@ BOUNDED = ("bounded",)
 
 def all_guards(desk, offers):
     """The lot of all guards."""
-    offers = need_offers(desk, offers)
-    buys = [("buy", number) for number in range(len(offers))]
-    return tuple(buys + [("wait", tool) for tool in range(len(desk.tools))])
+    return every_guard(desk, need_offers(desk, offers))
 
 
 def with_bought(desk, offers, lot):
     """The desk with what is bought in the lot."""
     offers = need_offers(desk, offers)
     lot = need_lot(desk, offers, lot)
-    return _with_bought(desk, offers, lot)
+    return with_repairs(desk, [offers[number] for number in buys_of(lot)])
 
 
 def guard_table(desk, offers, lot):
     """(sort, value) for all sorts, ascending: what a No that begins with the sort alone costs under the lot."""
     offers = need_offers(desk, offers)
     lot = need_lot(desk, offers, lot)
-    told = _values_under(desk, offers, lot)
+    told = Offered(desk, offers).of_sorts(lot)
     return tuple([(sort, told[sort]) for sort in sorted(told)])
 
 
@@ -41,12 +39,12 @@ def value_of(desk, offers, tool, lot):
     offers = need_offers(desk, offers)
     need_tool(desk, tool)
     lot = need_lot(desk, offers, lot)
-    return _value_of(desk, offers, tool, lot)
+    return Offered(desk, offers).of_tool(tool, lot)
 
 
 def is_kept(value, promise):
     """Whether any value is a value of a No, and keeps the promise."""
-    return _keeps(value, need_promise(promise))
+    return keeps(value, need_promise(promise))
 
 
 def serves(desk, offers, tool, lot, promise):
@@ -55,7 +53,7 @@ def serves(desk, offers, tool, lot, promise):
     need_tool(desk, tool)
     lot = need_lot(desk, offers, lot)
     promise = need_promise(promise)
-    return _keeps(_value_of(desk, offers, tool, lot), promise)
+    return keeps(Offered(desk, offers).of_tool(tool, lot), promise)
 
 
 def value_rank(value):
@@ -95,6 +93,15 @@ def need_promise(value):
     raise InvalidPromise(-1)
 
 
+def keeps(value, promise):
+    """As is_kept, of a promise in a tuple."""
+    if not isinstance(value, tuple):
+        return False
+    if value == GROWS:
+        return promise == RIGHT
+    return _is_most(value) and (len(promise) == 1 or value[1] <= promise[1])
+
+
 def _is_guard(desk, offers, value):
     if not is_row_of(value, 2):
         return False
@@ -108,26 +115,57 @@ def _is_most(value):
     return len(value) == 2 and value[0] == "most" and is_whole(value[1]) and value[1] >= 0
 
 
-def _keeps(value, promise):
-    if not isinstance(value, tuple):
-        return False
-    if value == GROWS:
-        return promise == RIGHT
-    return _is_most(value) and (len(promise) == 1 or value[1] <= promise[1])
+class Offered:
+    """A desk with offers; it keeps what is asked again and again of its values under lots."""
+
+    def __init__(self, desk, offers):
+        self._desk = desk
+        self._offers = offers
+        # what waits only waits behind the try: ahead of it all tools may have brought things
+        self._comes = what_comes(desk)
+        self._given = given_by_tools(desk, self._comes, sorts_among(self._comes))
+        self._prices = {}
+
+    def of_sorts(self, lot):
+        """For each sort its value under the lot."""
+        prices = self.prices(lot)
+        waits = waits_of(lot)
+        bases = {sort: value_of_price(prices[sort]) for sort in self._given}
+        return values_of_sorts(bases, lines_without(self._given, waits))
+
+    def prices(self, lot):
+        """The price table of the desk with what is bought in the lot."""
+        buys = buys_of(lot)
+        if buys not in self._prices:
+            self._prices[buys] = price_table(with_repairs(self._desk, [self._offers[number] for number in buys]))
+        return self._prices[buys]
+
+    def of_tool(self, tool, lot):
+        """What a No to a try of the tool costs under the lot, at worst."""
+        told = self.of_sorts(lot)
+        begun = beginnings_with(self._desk, self._comes, tool)
+        rows = [[told[pair] for pair in apart_of(pairs)] for _, pairs in begun]
+        if any([BAD in row for row in rows]):
+            return BAD
+        if any([GROWS in row for row in rows]):
+            return GROWS
+        return ("most", max([sum([value[1] for value in row]) for row in rows], default=0))
 
 
-def _with_bought(desk, offers, lot):
-    return with_repairs(desk, [offers[number] for word, number in lot if word == "buy"])
+def buys_of(lot):
+    """The numbers of the offers that are bought in a lot."""
+    return tuple([number for word, number in lot if word == "buy"])
 
 
-def _value_of(desk, offers, tool, lot):
-    told = _values_under(desk, offers, lot)
-    rows = [[told[pair] for pair in apart_of(pairs)] for _, pairs in beginnings_with(desk, what_comes(desk), tool)]
-    if any([BAD in row for row in rows]):
-        return BAD
-    if any([GROWS in row for row in rows]):
-        return GROWS
-    return ("most", max([sum([value[1] for value in row]) for row in rows], default=0))
+def waits_of(lot):
+    """The tools that wait in a lot."""
+    return tuple([number for word, number in lot if word == "wait"])
+
+
+def every_guard(desk, offers):
+    """The lot of all guards, of offers in tuples."""
+    buys = [("buy", number) for number in range(len(offers))]
+    return tuple(buys + [("wait", tool) for tool in range(len(desk.tools))])
 
 
 def values_of_sorts(bases, lines):
@@ -149,22 +187,24 @@ def value_of_price(price):
 
 def given_lines(desk, comes, all_sorts, waits):
     """For each of these sorts what its steps by tools that don't wait give, each once, as lines without gain."""
-    lines = {}
+    return lines_without(given_by_tools(desk, comes, all_sorts), waits)
+
+
+def given_by_tools(desk, comes, all_sorts):
+    """For each of these sorts the (tool, what a step by it gives) of all steps, each once."""
+    found = {}
     for sort in all_sorts:
         given = {}
         for step in steps_of_kind(desk, comes, sort[0]):
-            if step[0] not in waits:
-                given[apart_of(step_played(desk, sort, step)[2])] = True
-        lines[sort] = [(0, one) for one in sorted(given)]
+            given[(step[0], apart_of(step_played(desk, sort, step)[2]))] = True
+        found[sort] = list(given)
+    return found
+
+
+def lines_without(given, waits):
+    """For each sort the lines of the tools that don't wait, each once, of what is given by tools."""
+    lines = {}
+    for sort in given:
+        told = {one: True for tool, one in given[sort] if tool not in waits}
+        lines[sort] = [(0, one) for one in sorted(told)]
     return lines
-
-
-def _values_under(desk, offers, lot):
-    """For each sort its value under the lot."""
-    prices = price_table(_with_bought(desk, offers, lot))
-    # what waits only waits behind the try: ahead of it all tools may have brought things
-    comes = what_comes(desk)
-    all_sorts = sorts_among(comes)
-    waits = [number for word, number in lot if word == "wait"]
-    bases = {sort: value_of_price(prices[sort]) for sort in all_sorts}
-    return values_of_sorts(bases, given_lines(desk, comes, all_sorts, waits))

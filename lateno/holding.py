@@ -108,10 +108,15 @@ def ledger_asked(desk, ledger, one, waits, bound):
     """The ledger behind a try of which it is asked whether it is let."""
     ledger = need_ledger(desk, ledger)
     one = _need_try(desk, ledger, one)
-    if bound is not None and not is_number(bound):
-        raise InvalidBound(-1)
+    need_bound(bound)
     _need_place(ledger, waits)
     return _tried_ledger(desk, ledger, one, waits)
+
+
+def need_bound(value):
+    """Raises the error for what is no bound."""
+    if value is not None and not is_number(value):
+        raise InvalidBound(-1)
 
 
 def edges_of(desk, ledger):

@@ -71,18 +71,19 @@ def need_lots(house, value):
     return tuple([tuple(lot) for lot in value])
 
 
+def have_common_name(told, others):
+    """Whether one of these kinds (or tools) has a name that one of the others has."""
+    names = [one[0] for one in others]
+    return any([one[0] in names for one in told])
+
+
 def _need_joinable(house, other):
     if seam_of(house) != seam_of(other):
         raise InvalidSeam("seam")
-    if _have_common_name(house.desk.kinds[house.many:], other.desk.kinds[other.many:]):
+    if have_common_name(house.desk.kinds[house.many:], other.desk.kinds[other.many:]):
         raise InvalidSeam("kinds")
-    if _have_common_name(house.desk.tools, other.desk.tools):
+    if have_common_name(house.desk.tools, other.desk.tools):
         raise InvalidSeam("tools")
-
-
-def _have_common_name(told, others):
-    names = [one[0] for one in others]
-    return any([one[0] in names for one in told])
 
 
 def _numbered_anew(roles, many, ahead):

@@ -24,7 +24,7 @@ def net_steps(desk, plan, standing):
 def net_led(desk, plan, moves):
     """The standing to which moves lead from the first one."""
     plan, comes = need_net(desk, plan)
-    return _need_moves(desk, plan, comes, moves)
+    return led_by(desk, plan, comes, FIRST, moves)
 
 
 def run_of(desk, plan, history):
@@ -44,7 +44,7 @@ def run_of(desk, plan, history):
 def history_of(desk, plan, moves):
     """Some history for the plan whose run is these moves."""
     plan, comes = need_net(desk, plan)
-    done, _ = _need_moves(desk, plan, comes, moves)
+    done, _ = led_by(desk, plan, comes, FIRST, moves)
     if len(done) < len(plan[0]):
         raise InvalidMoves(len(moves))
     things, ahead = history_with(desk, _alike_wants(desk, moves))
@@ -88,6 +88,19 @@ def steps_behind(desk, plan, comes, standing):
         if behind is not None:
             found.append((move, behind))
     return tuple(found)
+
+
+def led_by(desk, plan, comes, standing, moves):
+    """The standing to which moves lead from this one, if each can be done in its place."""
+    if not is_row(moves):
+        raise InvalidMoves(-1)
+    for at, value in enumerate(moves):
+        if not _is_move(desk, plan, comes, standing[0], value):
+            raise InvalidMoves(at)
+        standing = _led_on(desk, plan, standing, value)
+        if standing is None:
+            raise InvalidMoves(at)
+    return standing
 
 
 def is_standing(desk, plan, comes, value):
@@ -163,20 +176,6 @@ def _led_on(desk, plan, standing, move):
     _, behind = turned(desk, plan, tool, rows, strike)
     strikes = done if strike == -1 else tuple(sorted(done + (strike,)))
     return (strikes, tuple(sorted(left + list(heap_told(roles, behind)))))
-
-
-def _need_moves(desk, plan, comes, moves):
-    """The standing to which moves lead, if each can be done in its place."""
-    if not is_row(moves):
-        raise InvalidMoves(-1)
-    standing = FIRST
-    for at, value in enumerate(moves):
-        if not _is_move(desk, plan, comes, standing[0], value):
-            raise InvalidMoves(at)
-        standing = _led_on(desk, plan, standing, value)
-        if standing is None:
-            raise InvalidMoves(at)
-    return standing
 
 
 def _is_move(desk, plan, comes, done, value):

@@ -48,14 +48,19 @@ def need_plan(desk, plan):
     """The plan in tuples, if it is one."""
     if not is_row_of(plan, 2):
         raise InvalidPlan(("plan", -1))
-    tools, columns = plan
+    tools = need_struck_tools(desk, plan[0])
+    return (tools, _need_columns(len(tools), plan[1]))
+
+
+def need_struck_tools(desk, tools):
+    """The tools of a plan in a tuple, if they are such."""
     if not is_row(tools) or not 1 <= len(tools) <= MOST_STRIKES:
         raise InvalidPlan(("tools", -1))
     comes = what_comes(desk)
     for at, tool in enumerate(tools):
         if not is_below(tool, len(desk.tools)) or not is_possible(desk, comes, tool):
             raise InvalidPlan(("tools", at))
-    return (tuple(tools), _need_columns(len(tools), columns))
+    return tuple(tools)
 
 
 def need_plan_history(desk, plan, history):

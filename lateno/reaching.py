@@ -3,11 +3,11 @@
 from lateno.desks import need_tool
 from lateno.errors import InvalidSize
 from lateno.pairs import price_table
-from lateno.reach import what_comes
-from lateno.steps import apart_of, beginnings_with, right_step
-from lateno.tables import all_step_lines, bases_of, given_of, need_number, step_line, worst_of
-from lateno.ways import add_first, add_step, all_hops, first_ways, history_behind, hops_behind, hops_end
-from lateno.ways import way_end, way_to
+from lateno.reach import is_possible, what_comes
+from lateno.steps import right_step
+from lateno.tables import all_step_lines, bases_of, need_number, step_line, worst_of
+from lateno.trees import tree_history
+from lateno.ways import all_hops, first_ways, hops_behind, hops_end, way_end, way_to
 from lateno.checks import is_below, is_just
 
 PRICE = ("price",)
@@ -63,20 +63,18 @@ def reached(desk, tool, number, least):
     """Some (history, at): struck alone the try of this number, one of the tool, counts at least so much; else None."""
     need_tool(desk, tool)
     number = need_number(desk, number)
-    if not is_below(least, MOST_LEAST + 1):
-        raise InvalidSize("least")
+    need_least(least)
     comes = what_comes(desk)
-    starts = [(row, apart_of(pairs)) for row, pairs in beginnings_with(desk, comes, tool)]
     worst = worst_of(desk, tool, number)
-    if not starts or (worst is not None and worst < least):
+    if not is_possible(desk, comes, tool) or (worst is not None and worst < least):
         return None
-    lines = all_step_lines(desk, comes, number)
-    layers = _layers_to(lines, bases_of(desk, comes, number), starts, least)
-    for row, pairs in starts:
-        if sum([layers[-1][pair] for pair in pairs]) >= least:
-            things, tries, at = _history_of_tree(desk, tool, row, lines, layers, least)
-            return ((things, tries), at)
-    return None
+    return tree_history(desk, comes, tool, all_step_lines(desk, comes, number), bases_of(desk, comes, number), least)
+
+
+def need_least(value):
+    """Raises the error for what is no number up to the greatest that may be asked for."""
+    if not is_below(value, MOST_LEAST + 1):
+        raise InvalidSize("least")
 
 
 def is_round(desk, comes, number, sort, value):
@@ -142,54 +140,3 @@ class Rings:
                 if gain > 0:
                     return (told[other], step)
         return None
-
-
-def _layers_to(lines, bases, starts, least):
-    """For 0, 1, .. steps one behind another each sort's number, none above least, until some start has so much."""
-    layer = {sort: least if bases[sort] is None else min(bases[sort], least) for sort in bases}
-    layers = [layer]
-    while not any([sum([layer[pair] for pair in pairs]) >= least for _, pairs in starts]):
-        layer = {sort: _next_number(layer, sort, lines[sort], least) for sort in lines}
-        layers.append(layer)
-    return layers
-
-
-def _next_number(layer, sort, told, least):
-    """The number of a sort with one step more."""
-    return max([layer[sort]] + [_line_number(layer, line, least) for line in told])
-
-
-def _line_number(layer, line, least):
-    _, gain, gives = line
-    return min(least, gain + sum([layer[pair] for pair in given_of(gives)]))
-
-
-def _history_of_tree(desk, tool, row, lines, layers, least):
-    """(things, tries, number of the struck one): from pair to pair what is wanted is parted until it is counted."""
-    wants = []
-    tries = []
-    members = add_first(desk, wants, tries, tool, row)
-    before, behind = desk.tools[tool][2][row]
-    pairs = list(zip(desk.tools[tool][1], behind, before))
-    gives = [(role, pair) for role, pair in enumerate(pairs) if pair[1] != pair[2]]
-    left = _parted(layers[-1], members, gives, least)
-    while left:
-        thing, pair, want = left.pop()
-        depth = min([at for at, layer in enumerate(layers) if layer[pair] >= want])
-        if depth > 0:
-            ahead = layers[depth - 1]
-            step, gain, gives = [line for line in lines[pair] if _line_number(ahead, line, least) >= want][0]
-            members = add_step(desk, wants, tries, thing, step)
-            left.extend(_parted(ahead, members, gives, want - gain))
-    return history_behind(desk, wants, tries)
-
-
-def _parted(layer, members, gives, want):
-    """(thing, pair, its part of what is wanted) for the given pairs, as far as something is wanted of them."""
-    parts = []
-    for role, pair in gives:
-        part = min(want, layer[pair])
-        if part > 0:
-            parts.append((members[role], pair, part))
-            want -= part
-    return parts

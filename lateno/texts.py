@@ -46,12 +46,20 @@ def read_history(desk, text):
         raise InvalidText(0)
     tries = []
     for at, words in enumerate(lines[1:], start=1):
-        members = [_number_of(word) for word in words[1:]]
+        members = [number_of(word) for word in words[1:]]
         one = right_try(desk, things, (tool_number(desk, words[0]), members))
         if one is None:
             raise InvalidText(at)
         tries.append(one)
     return (tuple(things), tuple(tries))
+
+
+def number_of(word):
+    """The number that a word tells, None if it tells none."""
+    if not 1 <= len(word) <= MOST_FIGURES or (word[0] == "0" and word != "0"):
+        return None
+    # isdigit() would let in figures beyond 0 to 9
+    return int(word) if all(["0" <= figure <= "9" for figure in word]) else None
 
 
 def _lines_of(text):
@@ -70,14 +78,6 @@ def _row_line(before, behind):
     return _told_words("row", list(before) + [":"] + list(behind))
 
 
-def _number_of(word):
-    """The number that a word tells, None if it tells none."""
-    if not 1 <= len(word) <= MOST_FIGURES or (word[0] == "0" and word != "0"):
-        return None
-    # isdigit() would let in figures beyond 0 to 9
-    return int(word) if all(["0" <= figure <= "9" for figure in word]) else None
-
-
 def _take_line(kinds, tools, repairs, words):
     """Adds what a line tells; whether it may stand behind the lines so far."""
     word = words[0]
@@ -93,7 +93,7 @@ def _take_line(kinds, tools, repairs, words):
 def _take_kind(kinds, words):
     if len(words) != 3 or len(kinds) == MOST_KINDS:
         return False
-    kind = next_kind(kinds, (words[1], _number_of(words[2])))
+    kind = next_kind(kinds, (words[1], number_of(words[2])))
     if kind is None:
         return False
     kinds.append(kind)
@@ -115,8 +115,8 @@ def _take_row(kinds, tool, words):
     middle = len(roles) + 1
     if len(words) <= middle or words[middle] != ":":
         return False
-    before = [_number_of(word) for word in words[1:middle]]
-    behind = [_number_of(word) for word in words[middle + 1:]]
+    before = [number_of(word) for word in words[1:middle]]
+    behind = [number_of(word) for word in words[middle + 1:]]
     row = next_row(kinds, roles, rows, (before, behind))
     if row is None:
         return False
@@ -127,7 +127,7 @@ def _take_row(kinds, tool, words):
 def _take_repair(kinds, repairs, words):
     if len(words) != 5:
         return False
-    numbers = [_number_of(word) for word in words[2:]]
+    numbers = [number_of(word) for word in words[2:]]
     repair = next_repair(kinds, repairs, [number_of_name(kinds, words[1])] + numbers)
     if repair is None:
         return False

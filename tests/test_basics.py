@@ -9,12 +9,17 @@ from lateno.contracts import contract_holds, contract_table, least_contract
 from lateno.counts import counted
 from lateno.desks import Desk, is_total, kind_number, need_offers, tool_number, with_repairs
 from lateno.exact import exact, exact_holds
+from lateno.faces import comes_to, face_of, is_beside, join_faces, no_worse, order_of
+from lateno.fallen import fallen_holds, fallen_paper, most_fallen, sorts_that_fall
 from lateno.guards import all_guards, guard_table, is_kept, serves, value_of, with_bought
 from lateno.holding import bad_edges, bill, cheapest_order, dearest_order, edge_price, fresh_ledger, ledger_of, lets, no_ledger
 from lateno.holding import tried_ledger, yes_ledger
 from lateno.houses import House, closed_lots, comes_with, join_houses, seam_of
+from lateno.late import late_history
 from lateno.nets import history_of, net_led, net_moves, net_steps, run_of
+from lateno.nos import group_reached, group_worst, paid, still
 from lateno.notes import leaning, noted
+from lateno.orders import order_matters, order_story, row_worst
 from lateno.pairs import least_price, repair_price, repair_row
 from lateno.plans import both_plan, columns_of, heap_of, no_plan, row_plan, stands_of
 from lateno.prices import closed_lot, closed_lot_holds, price_of, worst
@@ -114,6 +119,18 @@ CALLS = (
     (closed_lot_holds, {"desk": BOUGHT, "plan": no_plan(0), "most": 3, "value": closed_lot(BOUGHT, no_plan(0))}, "value"),
     (totalled, {"desk": MAIL}), (bridge, {"desk": MAIL, "tool": 0}), (contract_table, {"house": JOINED[0], "contract": least_contract(*JOINED)}),
     (contract_holds, {"house": JOINED[0], "value": least_contract(*JOINED)}, "value"), (least_contract, {"house": JOINED[0], "other": JOINED[1]}),
+    (group_worst, {"desk": MAIL, "tools": (0, 1), "many": 3, "number": ("otherwise", (0, 1))}),
+    (group_reached, {"desk": MAIL, "tools": (0, 1), "many": 3, "number": ("otherwise", (0, 1)), "least": 7}),
+    (paid, {"desk": BOUGHT, "history": HISTORY, "order": (1, 0)}), (sorts_that_fall, {"desk": MAIL, "tool": 0}),
+    (still, {"desk": BOUGHT, "history": HISTORY, "struck": (0,), "number": ("touched", (0,))}), (most_fallen, {"desk": MAIL, "tool": 0}),
+    (fallen_paper, {"desk": MAIL, "tool": 0}), (fallen_holds, {"desk": MAIL, "tool": 0, "most": 1, "value": fallen_paper(MAIL, 0)}, "value"),
+    (row_worst, {"desk": BOUGHT, "tools": (0, 1)}), (order_matters, {"desk": LOCK, "one": 1, "other": 0}),
+    (order_story, {"desk": LOCK, "one": 1, "other": 0}),
+    (late_history, {"desk": MAIL, "offers": OFFERS, "tool": 0, "lot": (("buy", 0),), "promise": ("most", 2)}),
+    (comes_to, {"house": JOINED[0], "waits": (1,), "lots": ((0, 1, 2),), "sort": (0, 2, 0)}), (order_of, {"sorts": ((0, 1, 2), (0, 2, 3))}),
+    (face_of, {"house": JOINED[0], "waits": (1,)}), (is_beside, {"face": face_of(JOINED[1], ()), "house": JOINED[0], "tool": 0, "waits": (1,)}),
+    (join_faces, {"face": face_of(JOINED[0], ()), "other": face_of(JOINED[1], ())}),
+    (no_worse, {"face": face_of(JOINED[0], ()), "other": face_of(JOINED[0], (0,))}),
 )
 
 
@@ -176,7 +193,8 @@ class AllCalls(Case):
 
     def test_whether_is_a_bool(self):
         for call in (is_total, closed_holds, all_done, alike_histories, is_kept, serves, table_holds, is_calm, wall_holds, lets, rule_serves,
-                     is_silent, loud_holds, late_story_holds, is_safe, way_holds, ring_holds, exact_holds, closed_lot_holds, contract_holds):
+                     is_silent, loud_holds, late_story_holds, is_safe, way_holds, ring_holds, exact_holds, closed_lot_holds, contract_holds,
+                     fallen_holds, order_matters, is_beside, no_worse):
             named = next(row[1] for row in CALLS if row[0] == call)
             self.assertIs(type(call(**named)), bool)
         for row in outcomes(MAIL, HISTORY) + tried(MAIL, (0,), (0, (0,)))[1:] + played(MAIL, (0, 1, 0), (1, 0, ()))[:2]:

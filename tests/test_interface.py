@@ -79,10 +79,28 @@ FUNCTIONS = {
     },
     "bridge": {"totalled": "desk", "bridge": "desk tool"},
     "exact": {"exact": "desk number", "exact_holds": "desk number value"},
+    "faces": {
+        "comes_to": "house waits lots sort", "order_of": "sorts", "face_of": "house waits", "is_beside": "face house tool waits",
+        "join_faces": "face other", "no_worse": "face other",
+    },
+    "fallen": {
+        "sorts_that_fall": "desk tool", "most_fallen": "desk tool", "fallen_paper": "desk tool",
+        "fallen_holds": "desk tool most value",
+    },
+    "late": {"late_history": "desk offers tool lot promise"},
+    "nos": {
+        "group_worst": "desk tools many number", "group_reached": "desk tools many number least",
+        "still": "desk history struck number", "paid": "desk history order",
+    },
+    "orders": {"row_worst": "desk tools", "order_matters": "desk one other", "order_story": "desk one other"},
 }
 CLASSES = {
     "desks": {"Desk": ("kinds tools repairs", {"behind": "tool befores"})},
     "houses": {"House": ("desk many", {})},
+    "live": {"Live": ("desk rules bound", {
+        "thing": "kind", "ask": "agent tool things", "history": "", "waiting": "", "world": "", "bill": "", "paid": "", "log": "",
+        "yes": "number", "no": "numbers", "frees": "agent tool things", "asks": "agent tool things",
+    })},
 }
 
 
@@ -111,7 +129,7 @@ class Interface(unittest.TestCase):
                 own = [one.name for one in defined_in(module)[name].body if isinstance(one, ast.FunctionDef)]
                 for method, rest in methods.items():
                     self.assertIn(method, own)
-                    self.assertEqual(parameters(getattr(getattr(loaded, name), method)), "self " + rest)
+                    self.assertEqual(parameters(getattr(getattr(loaded, name), method)), ("self " + rest).strip())
 
 
 class Readme(unittest.TestCase):
