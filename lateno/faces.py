@@ -90,6 +90,11 @@ def no_worse(face, other):
     return True
 
 
+def many_states(lots):
+    """How many states all these lots have."""
+    return sum([len(lot) for lot in lots])
+
+
 def _need_waits(house, value):
     """The lot of the house's tools in a tuple, if the value is one."""
     if not is_row(value):
@@ -166,11 +171,7 @@ def _least_common(rows_by_lots, house):
     """The least lots of a face that are closed for a house, too."""
     common = [lots for lots in closed_lots(house) if lots in rows_by_lots]
     # what both are closed for lies in each other such lots where it is least, so it has the fewest states
-    return min(common, key=_many_states)
-
-
-def _many_states(lots):
-    return sum([len(lot) for lot in lots])
+    return min(common, key=many_states)
 
 
 def _joined_order(here, there, sort):

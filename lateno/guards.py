@@ -128,12 +128,12 @@ class Offered:
 
     def of_sorts(self, lot):
         """For each sort its value under the lot."""
-        prices = self.prices(lot)
+        prices = self.prices_under(lot)
         waits = waits_of(lot)
         bases = {sort: value_of_price(prices[sort]) for sort in self._given}
         return values_of_sorts(bases, lines_without(self._given, waits))
 
-    def prices(self, lot):
+    def prices_under(self, lot):
         """The price table of the desk with what is bought in the lot."""
         buys = buys_of(lot)
         if buys not in self._prices:

@@ -23,7 +23,7 @@ def late_history(desk, offers, tool, lot, promise):
     if keeps(offered.of_tool(tool, lot), promise):
         return None
     comes = what_comes(desk)
-    prices = offered.prices(lot)
+    prices = offered.prices_under(lot)
     bases = {sort: prices[sort] for sort in sorts_among(comes)}
     least = 1
     if promise == RIGHT:

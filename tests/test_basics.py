@@ -4,9 +4,12 @@ import time
 import unittest
 
 from lateno.asking import ask_tree, asks_needed, broken_lots, firm_holds, firm_table, least_yeses, sure_asks, tree_asks
+from lateno.bought import cheapest, lots_from, stairs, whole_breaks, whole_lots
+from lateno.breaks import break_story, breaks_table, cuts, is_break, story_holds
 from lateno.bridge import bridge, totalled
 from lateno.contracts import contract_holds, contract_table, least_contract
 from lateno.counts import counted
+from lateno.crossings import crossings_of, least_breaks, least_lots, lists_hold
 from lateno.desks import Desk, is_total, kind_number, need_offers, tool_number, with_repairs
 from lateno.exact import exact, exact_holds
 from lateno.faces import comes_to, face_of, is_beside, join_faces, no_worse, order_of
@@ -21,10 +24,12 @@ from lateno.nos import group_reached, group_worst, paid, still
 from lateno.notes import leaning, noted
 from lateno.orders import order_matters, order_story, row_worst
 from lateno.pairs import least_price, repair_price, repair_row
+from lateno.parting import parting, parting_holds
 from lateno.plans import both_plan, columns_of, heap_of, no_plan, row_plan, stands_of
 from lateno.prices import closed_lot, closed_lot_holds, price_of, worst
 from lateno.reach import closed_holds, ready, sorts, what_comes
 from lateno.reaching import bad_way, is_safe, reached, ring, ring_holds, way_holds
+from lateno.rings import growing_ring, growing_ring_holds, ring_history
 from lateno.silence import is_silent, loud_holds, loud_run, need_rules, rule_serves
 from lateno.steps import beginnings, played, steps
 from lateno.tables import base, table, table_holds, worst_of
@@ -50,7 +55,12 @@ RULES = ((0, ()), (1, (0,)))
 BOUGHT = with_repairs(MAIL, OFFERS)
 JOINED = (House(BOUGHT, 1), House(Desk(BOUGHT.kinds, (("back", (0,), (((2,), (0,)),)),), BOUGHT.repairs), 1))
 
-# (function, its arguments in their order, which of them may hold no lists)
+GUARDED = {"desk": MAIL, "offers": OFFERS, "tool": 0, "lot": (("buy", 0), ("wait", 0), ("wait", 1)), "promise": ("most", 2)}
+WANTED = {"desk": MAIL, "offers": OFFERS, "tool": 0, "promise": ("right",)}
+WHOLE = {"desk": MAIL, "offers": OFFERS, "tools": (0, 1), "promise": ("most", 3)}
+COSTS = ((("buy", 0), 5), (("wait", 0, 0), 1), (("wait", 0, 1), 1), (("wait", 1, 0), 1), (("wait", 1, 1), 2))
+
+# (function, its arguments in their order, names of those that may hold no lists)
 CALLS = (
     (kind_number, {"desk": MAIL, "name": "mail"}), (tool_number, {"desk": MAIL, "name": "send"}), (is_total, {"desk": MAIL}),
     (need_offers, {"desk": MAIL, "value": OFFERS}), (with_repairs, {"desk": MAIL, "offers": OFFERS}),
@@ -131,19 +141,33 @@ CALLS = (
     (face_of, {"house": JOINED[0], "waits": (1,)}), (is_beside, {"face": face_of(JOINED[1], ()), "house": JOINED[0], "tool": 0, "waits": (1,)}),
     (join_faces, {"face": face_of(JOINED[0], ()), "other": face_of(JOINED[1], ())}),
     (no_worse, {"face": face_of(JOINED[0], ()), "other": face_of(JOINED[0], (0,))}),
+    (growing_ring, {"desk": COPIED, "plan": no_plan(0)}),
+    (growing_ring_holds, {"desk": COPIED, "plan": no_plan(0), "value": growing_ring(COPIED, no_plan(0))}, "value"),
+    (ring_history, {"desk": COPIED, "plan": row_plan((0, 0)), "value": growing_ring(COPIED, row_plan((0, 0))), "times": 2}, "value"),
+    (is_break, GUARDED), (break_story, GUARDED), (story_holds, {**GUARDED, "story": break_story(**GUARDED)}, "story"),
+    (cuts, {"desk": MAIL, "offers": OFFERS, "sort": (0, 2, 1)}), (breaks_table, {"desk": MAIL, "offers": OFFERS}),
+    (crossings_of, {"lots": ((("buy", 0), ("wait", 1)), (("wait", 0, 1),))}),
+    (least_lots, WANTED), (least_breaks, WANTED),
+    (lists_hold, {**WANTED, "lots": least_lots(**WANTED), "breaks": least_breaks(**WANTED)}, "lots", "breaks"),
+    (stairs, {"desk": MAIL, "offers": OFFERS, "tool": 0}), (lots_from, {"rows": stairs(MAIL, OFFERS, 0), "promise": ("most", 3)}),
+    (whole_lots, WHOLE), (whole_breaks, WHOLE), (cheapest, {**WHOLE, "costs": COSTS}),
+    (parting, {"house": JOINED[0], "other": JOINED[1]}),
+    (parting_holds, {"house": JOINED[0], "other": JOINED[1], "value": parting(*JOINED)}, "value"),
 )
 
 
 def told(result):
     """A result as it can be compared: objects by what they tell."""
+    if isinstance(result, tuple):
+        return tuple(told(one) for one in result)
     return result.told if isinstance(result, (Desk, House)) else result
 
 
 def in_lists(named, whole):
-    """The arguments with lists for tuples; one that may hold no lists stays, or is a list of tuples itself."""
+    """The arguments with lists for tuples; such as may hold no lists stay, or are a list of tuples themselves."""
     found = {}
     for name, value in named.items():
-        if name != whole:
+        if name not in whole:
             found[name] = as_lists(value)
         else:
             found[name] = list(value) if name == "moves" else value
@@ -162,7 +186,7 @@ class AllCalls(Case):
             want = told(call(*named.values()))
             self.same(told(call(**named)), want)
             self.same(told(call(**dict(reversed(list(named.items()))))), want)
-            lists = in_lists(named, whole[0] if whole else None)
+            lists = in_lists(named, whole)
             self.same(told(call(**lists)), want)
             self.same(told(call(*lists.values())), want)
 
@@ -172,7 +196,7 @@ class AllCalls(Case):
 
     def test_arguments_do_not_change_and_are_not_kept(self):
         for call, named, *whole in CALLS:
-            lists = in_lists(named, whole[0] if whole else None)
+            lists = in_lists(named, whole)
             before = repr({name: told(value) for name, value in lists.items()})
             found = call(**lists)
             self.assertEqual(repr({name: told(value) for name, value in lists.items()}), before, call.__name__)
@@ -194,7 +218,7 @@ class AllCalls(Case):
     def test_whether_is_a_bool(self):
         for call in (is_total, closed_holds, all_done, alike_histories, is_kept, serves, table_holds, is_calm, wall_holds, lets, rule_serves,
                      is_silent, loud_holds, late_story_holds, is_safe, way_holds, ring_holds, exact_holds, closed_lot_holds, contract_holds,
-                     fallen_holds, order_matters, is_beside, no_worse):
+                     fallen_holds, order_matters, is_beside, no_worse, growing_ring_holds, is_break, story_holds, lists_hold, parting_holds):
             named = next(row[1] for row in CALLS if row[0] == call)
             self.assertIs(type(call(**named)), bool)
         for row in outcomes(MAIL, HISTORY) + tried(MAIL, (0,), (0, (0,)))[1:] + played(MAIL, (0, 1, 0), (1, 0, ()))[:2]:

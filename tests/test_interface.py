@@ -93,10 +93,25 @@ FUNCTIONS = {
         "still": "desk history struck number", "paid": "desk history order",
     },
     "orders": {"row_worst": "desk tools", "order_matters": "desk one other", "order_story": "desk one other"},
+    "rings": {"growing_ring": "desk plan", "growing_ring_holds": "desk plan value", "ring_history": "desk plan value times"},
+    "breaks": {
+        "is_break": "desk offers tool lot promise", "break_story": "desk offers tool lot promise",
+        "story_holds": "desk offers tool lot promise story", "cuts": "desk offers sort", "breaks_table": "desk offers",
+    },
+    "parting": {"parting": "house other", "parting_holds": "house other value"},
+    "crossings": {
+        "crossings_of": "lots", "least_lots": "desk offers tool promise", "least_breaks": "desk offers tool promise",
+        "lists_hold": "desk offers tool promise lots breaks",
+    },
+    "bought": {
+        "stairs": "desk offers tool", "lots_from": "rows promise", "whole_breaks": "desk offers tools promise",
+        "whole_lots": "desk offers tools promise", "cheapest": "desk offers tools promise costs",
+    },
 }
 CLASSES = {
     "desks": {"Desk": ("kinds tools repairs", {"behind": "tool befores"})},
     "houses": {"House": ("desk many", {})},
+    "bench": {"Bench": ("", {"say": "command"})},
     "live": {"Live": ("desk rules bound", {
         "thing": "kind", "ask": "agent tool things", "history": "", "waiting": "", "world": "", "bill": "", "paid": "", "log": "",
         "yes": "number", "no": "numbers", "frees": "agent tool things", "asks": "agent tool things",
