@@ -225,6 +225,30 @@ class AllCalls(Case):
             self.assertIs(type(row), bool)
 
 
+class ByHand(Case):
+    def test_the_overview(self):
+        history = ((0,), ((0, (0,)), (1, (0,)), (0, (0,))))
+        self.same(twin_behind(MAIL, history, (0,)), (1,))
+        self.same(counted(MAIL, history, (0,), ("price",)), None)
+        self.same(is_safe(MAIL, 0), False)
+        self.same(least_lots(MAIL, (), 0, ("right",)), ((("wait", 0),), (("wait", 1),)))
+        self.same(least_breaks(MAIL, (), 0, ("right",)), ((("wait", 0), ("wait", 1)),))
+        self.same([worst_of(BOUGHT, 0, ("price",)), group_worst(BOUGHT, (0,), 40, ("price",))], [3, 120])
+
+    def test_the_mail_desk(self):
+        self.same(sorts(MAIL), ((0, 0, 1), (0, 0, 2), (0, 1, 0), (0, 1, 2), (0, 2, 0), (0, 2, 1)))
+        self.same([least_price(MAIL, *sort) for sort in sorts(MAIL)], [None, None, 1, None, 3, None])
+        self.same(way_holds(MAIL, 0, (0, 0, ((1, 0, (), 0), (0, 0, (), 0)))), True)
+        told = dict(table(BOUGHT, ("price",)))
+        self.same([told[sort] for sort in ((0, 2, 1), (0, 2, 0), (0, 1, 0))], [2, 3, 3])
+        told = dict(table(BOUGHT, ("otherwise", (0, 1))))
+        self.same([told[sort] for sort in ((0, 2, 1), (0, 2, 0), (0, 1, 0))], [1, 2, 3])
+        self.same(group_worst(BOUGHT, (0,), 3, ("price",)), 9)
+        self.same([is_safe(COPIED, 0), worst_of(COPIED, 0, ("price",))], [True, None])
+        self.same(least_breaks(MAIL, OFFERS, 0, ("right",)), ((("buy", 0), ("wait", 0), ("wait", 1)),))
+        self.same(stairs(MAIL, OFFERS, 0), (((), ("bad",)), ((("buy", 0),), ("most", 3)), ((("wait", 0),), ("most", 3)), ((("wait", 1),), ("most", 1))))
+
+
 class Limits(Case):
     def test_the_largest_desk(self):
         kinds = [(letter, 6) for letter in "abcdef"]

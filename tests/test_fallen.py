@@ -326,6 +326,34 @@ class Errors(Case):
             self.fails(InvalidSize, "net", call, large, 0, *rest)
             self.fails(InvalidPlan, ("tools", 0), call, large, 2, *rest)
 
+    def test_many_heaps(self):
+        # a goes up and leaves, each time, things of other kinds apart, which go up by themselves: each such deed falls
+        def desk(many, kinds):
+            rows = [((x, 0), (x + 1, 1)) for x in range(1, many + 1)]
+            ups = [((y,), (y + 1,)) for y in range(1, 4)]
+            tools = [("set", (0,), (((0,), (1,)),))]
+            for at in range(kinds):
+                tools += [("mark" + "bcd"[at], (0, at + 1), rows), ("up" + "bcd"[at], (at + 1,), ups)]
+            return Desk([("a", 6)] + [("bcd"[at], 5) for at in range(kinds)], tools, ())
+        for many, kinds in ((1, 1), (2, 1), (4, 1), (1, 2), (2, 2), (1, 3)):
+            told = desk(many, kinds)
+            self.same(most_fallen(told, 0), 4 * many)
+            starts = starts_again(told, 0)
+            self.same(most_fallen(told, 0), most_again(all_heaps(deeds_again(told, 0), starts, 10 ** 4), starts))
+            self.same(fallen_holds(told, 0, 4 * many, fallen_paper(told, 0)), True)
+            self.same(fallen_holds(told, 0, 4 * many - 1, fallen_paper(told, 0)), False)
+        large = desk(4, 3)
+        deeds, falling = deeds_again(large, 0), sorts_that_fall(large, 0)
+        known, layer = set(), {tuple(sort for sort in heap if sort in falling) for heap in starts_again(large, 0)}
+        for _ in range(10):
+            known |= layer
+            layer = {led_again(heap, deed) for heap in layer for deed in deeds} - {None} - known
+        self.assertGreater(len({tuple(sort for sort in heap if sort in falling) for heap in known}), 400)
+        for call in (most_fallen, fallen_paper):
+            self.fails(InvalidSize, "heaps", call, large, 0)
+        self.same(fallen_holds(large, 0, 100, ()), False)
+        self.assertGreater(len(falling), 20)
+
 
 if __name__ == "__main__":
     unittest.main()
