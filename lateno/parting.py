@@ -3,7 +3,7 @@
 from lateno.desks import Desk
 from lateno.errors import InvalidSeam
 from lateno.faces import LOST, face_of, is_beside, many_states
-from lateno.houses import House, have_common_name, join_houses, need_house, seam_of
+from lateno.houses import House, have_common_name, join_houses, seam_of
 from lateno.lots import lies_in
 from lateno.checks import is_below, is_rising
 
@@ -47,8 +47,6 @@ def parting_holds(house, other, value):
 
 
 def _need_one_seam(house, other):
-    need_house(house)
-    need_house(other)
     if seam_of(house) != seam_of(other):
         raise InvalidSeam("seam")
 

@@ -196,6 +196,27 @@ class ByHand(Case):
         self.same(story_holds(back, (), 0, lot, ("most", 1), right[:2] + ((((0, 0, 1), None),) + right[2],)), False)
         self.same(story_holds(back, (), 0, lot, ("most", 1), right[:2] + (right[2] + (((0, 2, 1), (0, 0, ())),),)), False)
 
+    def test_the_dearest_choice(self):
+        # of two steps the second is the dearer one; and what is dear stands three steps behind
+        kinds = (("mail", 4),)
+        sign, send, burn = ("sign", (0,), (((0,), (1,)),)), ("send", (0,), (((1,), (2,)),)), ("burn", (0,), (((1,), (3,)),))
+        desk = Desk(kinds, (sign, send, burn), ((0, 1, 0, 1), (0, 2, 0, 2), (0, 3, 0, 5)))
+        lot = (SEND, ("wait", 2))
+        told = ("sum", 0, (((0, 1, 0), (2, 0, ())), ((0, 3, 0), None)))
+        self.same(break_story(desk, (), 0, lot, ("most", 4)), told)
+        self.same(story_holds(desk, (), 0, lot, ("most", 4), told), True)
+        self.same(story_holds(desk, (), 0, lot, ("most", 1), ("sum", 0, (((0, 1, 0), (1, 0, ())), ((0, 2, 0), None)))), True)
+        chain = Desk(kinds, (sign, send, ("file", (0,), (((2,), (3,)),))), ((0, 1, 0, 1), (0, 2, 0, 2), (0, 3, 0, 9)))
+        told = ("sum", 0, (((0, 1, 0), (1, 0, ())), ((0, 2, 0), (2, 0, ())), ((0, 3, 0), None)))
+        self.same(break_story(chain, (), 0, lot, ("most", 8)), told)
+        self.same(story_holds(chain, (), 0, lot, ("most", 8), told), True)
+        self.same(story_holds(chain, (), 0, lot, ("most", 9), told), False)
+        # lists do not stand for tuples within a story
+        for step in ([1, 0, ()], (1, 0, []), (True, 0, ()), (1, False, ())):
+            self.same(story_holds(chain, (), 0, lot, ("most", 8), told[:2] + ((((0, 1, 0), step),) + told[2][1:],)), False)
+        for sort in ([0, 1, 0], (False, 1, 0), (0, True, 0)):
+            self.same(story_holds(chain, (), 0, lot, ("most", 8), told[:2] + (((sort, (1, 0, ())),) + told[2][1:],)), False)
+
     def test_cuts(self):
         offers = ((0, 2, 1, 2),)
         self.same(cuts(MAIL, offers, (0, 2, 1)), ((BUY,),))

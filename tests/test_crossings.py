@@ -206,6 +206,11 @@ class Papers(Case):
         for value in odd_values() + [(("wait", 0),), ((("wait", True),),), ((("wait", 2),),), ((("buy", 0),),)]:
             self.same(lists_hold(MAIL, (), 0, RIGHT, value, breaks), False)
             self.same(lists_hold(MAIL, (), 0, RIGHT, lots, value), False)
+        # lists within, and bools that are equal to numbers
+        for wrong in (((["wait", 0],), (SEND,)), ([SIGN], (SEND,)), ((("wait", False),), (SEND,)), ((SIGN,), (("wait", True),)), ((SIGN,), ["wait"])):
+            self.same(lists_hold(MAIL, (), 0, RIGHT, wrong, breaks), False)
+        for wrong in (((["wait", 0], SEND),), ([SIGN, SEND],), ((("wait", False), SEND),), ((SIGN, ("wait", True)),), ((SIGN, ["wait", 1]),)):
+            self.same(lists_hold(MAIL, (), 0, RIGHT, lots, wrong), False)
         self.same(lists_hold(MAIL, OFFER, 0, ("most", 0), (), ((),)), True)
         self.same(lists_hold(MAIL, OFFER, 0, ("most", 0), ((),), ()), False)
         self.same(lists_hold(COPY, (), 1, RIGHT, ((),), ()), False)

@@ -78,6 +78,10 @@ class Exact(Case):
         # a lesser rank is wanted
         self.same(exact_holds(BOUGHT, PRICE, turned(told, 2, 3, 1)), False)
         self.same(exact_holds(BOUGHT, PRICE, turned(told, 2, 3, 10 ** 30)), True)
+        # what goes on to a sort with a number is not endless
+        endless = turned(turned(told, 2, 1, None), 2, 3, 9)
+        self.same(exact_holds(BOUGHT, PRICE, turned(endless, 2, 2, ("on", (1, 0, ()), 0))), False)
+        self.same(exact_holds(BOUGHT, PRICE, endless), False)
         # out to draft is 3 by its own price, and by the step to (2, 1) no more than 2
         self.same(exact_holds(BOUGHT, PRICE, turned(told, 4, 2, ("step", (0, 0, ())))), False)
         self.same(exact_holds(BOUGHT, PRICE, ()), False)

@@ -226,6 +226,7 @@ class Told(Case):
             both = waits + tuple(tool + len(house.desk.tools) for tool in others_waits)
             self.same(join_faces(face, others_face), face_of(joined, both))
             self.same(join_faces(as_lists(others_face), as_lists(face)), face_of(joined, both))
+            self.same(join_faces([(lots, rows[::-1]) for lots, rows in face[::-1]], others_face), face_of(joined, both))
             wider += join_faces(face, others_face) not in (face, others_face)
         self.assertGreater(wider, 10)
         self.same(join_faces(face=face_of(D, ()), other=face_of(by_hand(), ())), face_of(D, ()))

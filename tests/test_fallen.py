@@ -218,6 +218,10 @@ class ByHand(Case):
         more = (((), 0), (((0, (1, 0)),), 1), (((0, (1, 0)), (0, (1, 0))), 2), (((0, (0, 1)),), 0))
         self.same(fallen_holds(MAIL, 0, 1, more), False)
         self.same(fallen_holds(MAIL, 0, 1, more[:3]), True)
+        swapped = more[:2] + (((), 0), (((0, (1, 0)), (0, (0, 1))), 2))[1:]
+        self.same([holds_again(MAIL, 0, 1, swapped), fallen_holds(MAIL, 0, 1, swapped)], [False, False])
+        ordered = more[:2] + ((((0, (0, 1)),), 1), (((0, (0, 1)), (0, (1, 0))), 2), (((0, (0, 2)),), 0), (((0, (1, 2)),), 1))
+        self.same(fallen_holds(MAIL, 0, 1, ordered), holds_again(MAIL, 0, 1, ordered))
         self.same(fallen_holds(MAIL, 1, 0, ()), False)
         self.same(fallen_holds(MAIL, 1, 0, (((), 0),)), True)
 

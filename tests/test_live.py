@@ -268,6 +268,15 @@ class Errors(Case):
         self.left(live, InvalidLot, 1, live.no, [2, 0])
         self.left(live, InvalidLot, 2, live.no, [0, 2, 2])
         live.yes(0)
+        # a bool is no number, though it is equal to one that waits
+        bools = Live(MAIL, ((0, ()),), None)
+        for _ in range(2):
+            bools.ask("ann", 0, (bools.thing(0),))
+        self.same(bools.waiting(), (0, 1))
+        for value in (True, False):
+            self.left(bools, InvalidIndex, -1, bools.yes, value)
+            self.left(bools, InvalidLot, 0, bools.no, (value,))
+        self.left(bools, InvalidLot, 1, bools.no, (0, True))
         self.left(live, InvalidIndex, -1, live.yes, 0)
         self.left(live, InvalidLot, 0, live.no, (0, 2))
         live.no((2,))

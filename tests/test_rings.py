@@ -5,6 +5,8 @@ import unittest
 
 from lateno.desks import Desk
 from lateno.errors import InvalidPlan, InvalidSize
+from lateno.fallen import most_fallen
+from lateno.forward import LIMITS
 from lateno.nets import net_led, run_of
 from lateno.plans import both_plan, heap_of, no_plan, row_plan
 from lateno.prices import closed_lot, worst
@@ -89,6 +91,13 @@ class ByHand(Case):
         for value in odd_values() + [(None, None), ((SIGNED,), None), (None, (COPIES,))]:
             self.same(growing_ring_holds(COPIED, plan, value), False)
             self.same(growing_ring_holds(MAIL, plan, value), False)
+
+    def test_what_goes_on_without_more(self):
+        # sent, the mail is apart in another way: unlike, and not held
+        sent = (1, ((1, 0),), -1)
+        self.same(net_led(BOUGHT, no_plan(0), (SIGNED, sent)), ((0,), ((0, (2, 0)),)))
+        self.same(growing_ring_holds(BOUGHT, no_plan(0), ((SIGNED,), (sent,))), False)
+        self.same(growing_ring_holds(BOUGHT, no_plan(0), ((), (SIGNED, sent))), False)
 
     def test_going_round(self):
         plan = no_plan(0)
@@ -197,6 +206,25 @@ class Errors(Case):
         self.assertIsNone(standings_again(desk, no_plan(0), 10, 400))
         self.fails(InvalidSize, "standings", growing_ring, desk, no_plan(0))
         self.same(growing_ring_holds(desk, no_plan(0), ((), ())), False)
+
+    def test_many_standings_that_come_late(self):
+        # at most 400 come by ten moves, more by eleven: that is not too many
+        self.same(LIMITS, ((10, 400), (50, 2000)))
+        for many, kinds, top in ((4, 2, 5), (3, 3, 4)):
+            rows = [((x, 0), (x + 1, 1)) for x in range(1, many + 1)]
+            ups = [((y,), (y + 1,)) for y in range(1, top)]
+            tools = [("set", (0,), (((0,), (1,)),))]
+            for at in range(kinds):
+                tools += [("mark" + "bcd"[at], (0, at + 1), rows), ("up" + "bcd"[at], (at + 1,), ups)]
+            repairs = [(0, x, 0, 1) for x in range(1, 6)] + [(kind, y, 0, 1) for kind in range(1, kinds + 1) for y in range(1, 6)]
+            desk = Desk([("a", 6)] + [("bcd"[at], 6) for at in range(kinds)], tools, repairs)
+            told = [standings_again(desk, no_plan(0), moves, 2000) for moves in (10, 11, 50)]
+            self.assertLessEqual(len(told[0][0]), 400)
+            self.assertGreater(len(told[1][0]), 400)
+            self.same(closed_lot(desk, no_plan(0)), tuple(sorted(told[2][0])))
+            self.same(growing_ring(desk, no_plan(0)), None)
+            self.same(worst(desk, no_plan(0)), ("most", many + 1))
+            self.same(most_fallen(desk, 0), many * top)
 
 
 if __name__ == "__main__":
